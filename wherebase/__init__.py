@@ -1,0 +1,1 @@
+"""Wherebase: a database of exact shapes in the plane."""

@@ -1,0 +1,1 @@
+"""Names, fractions, points and straight pieces."""

@@ -1,0 +1,1 @@
+"""Meets and relations of shapes."""

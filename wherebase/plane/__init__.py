@@ -1,0 +1,1 @@
+"""How sides and points divide the plane; shapes and drawings rest on this."""

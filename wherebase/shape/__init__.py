@@ -1,0 +1,1 @@
+"""Shapes and what is put together of them."""
