@@ -6,9 +6,8 @@ from wherebase.base.likeness import is_like
 from wherebase.base.numbers import is_integer
 from wherebase.base.points import check_points, is_point, is_side
 from wherebase.plane.faces import faces_of, point_in_room, tie_with
-from wherebase.plane.forms import form_of
-from wherebase.plane.sheets import PLACE_WORDS, Sheet, place_words
-from wherebase.shape.shapes import check_drawn, check_shapes, shape_of
+from wherebase.plane.sheets import PLACE_WORDS, place_words
+from wherebase.shape.shapes import check_shapes, closure_of, sheet_of
 
 MAX_SHAPES = 8
 MAX_SIZE = 200
@@ -20,10 +19,8 @@ class Drawing:
     def __init__(self, *shapes):
         if not 1 <= len(shapes) <= MAX_SHAPES:
             raise InvalidShape("one to eight shapes make a drawing")
-        check_shapes(*shapes)
-        check_drawn(*shapes)
         self._shapes = shapes
-        self._sheet = Sheet([shape.form for shape in shapes])
+        self._sheet = sheet_of(*shapes)
         self._web = self._sheet.web
         spots = self._web.spots
         self._corners = tuple(spots)
@@ -128,7 +125,7 @@ class Drawing:
                 spots_in[web.spot_at[cell]] = True
             else:
                 ties_in[self._tie_of(cell)] = True
-        return shape_of(form_of(web, spots_in, ties_in, rooms_in))
+        return closure_of(self._sheet, (spots_in, ties_in, rooms_in))
 
     def alone(self, *indices):
         """The drawing of the shapes with some indices, in the order told."""

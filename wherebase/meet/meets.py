@@ -4,10 +4,10 @@ from wherebase.errors import InvalidOperation
 from wherebase.base.geometry import turn
 from wherebase.base.numbers import is_integer
 from wherebase.base.points import is_point
+from wherebase.draw.drawings import MAX_SHAPES
 from wherebase.plane.faces import triangle_in_room
-from wherebase.plane.forms import form_of
 from wherebase.plane.sheets import Sheet, place_at
-from wherebase.shape.shapes import check_drawn, check_shapes, shape_of
+from wherebase.shape.shapes import check_drawn, check_shapes, closure_of, sheet_of
 
 PLACES = ("inside", "border", "outside")
 RELATIONS = ("apart", "crosses", "enters", "equal", "holds", "meets", "overlaps", "touches", "within")
@@ -15,7 +15,7 @@ RELATIONS = ("apart", "crosses", "enters", "equal", "holds", "meets", "overlaps"
 
 def nine(shape, other_shape):
     """The dimensions of the nine meets of two shapes."""
-    return _nine_at(_dimensions(_sheet_of(shape, other_shape)), 0, 1)
+    return _nine_at(_dimensions(sheet_of(shape, other_shape)), 0, 1)
 
 
 def relations(shape, other_shape):
@@ -50,9 +50,9 @@ def has_pattern(shape, other_shape, pattern):
 
 def nines(*shapes):
     """For each shape the tuple of its nines with each shape, by one drawing."""
-    if not 1 <= len(shapes) <= 8:
+    if not 1 <= len(shapes) <= MAX_SHAPES:
         raise InvalidOperation("one to eight shapes have nines")
-    dimensions = _dimensions(_sheet_of(*shapes))
+    dimensions = _dimensions(sheet_of(*shapes))
     count = len(shapes)
     return tuple([tuple([_nine_at(dimensions, one, other) for other in range(count)]) for one in range(count)])
 
@@ -60,7 +60,7 @@ def nines(*shapes):
 def witness(shape, other_shape, first_place, second_place):
     """Any witness of a meet, with one point more than the dimension of the meet, or None."""
     wanted = _wanted(shape, other_shape, first_place, second_place)
-    sheet = _sheet_of(shape, other_shape)
+    sheet = sheet_of(shape, other_shape)
     web = sheet.web
     spots, ties, rooms = [_cells_at(row, wanted) for row in _rows_of(sheet)]
     if rooms:
@@ -91,16 +91,9 @@ def meet_shape(shape, other_shape, first_place, second_place):
     wanted = _wanted(shape, other_shape, first_place, second_place)
     if wanted == (2, 2):
         raise InvalidOperation("what is outside of both shapes is no shape")
-    sheet = _sheet_of(shape, other_shape)
+    sheet = sheet_of(shape, other_shape)
     chosen = [[(place_at(bits, 0), place_at(bits, 1)) == wanted for bits in row] for row in _rows_of(sheet)]
-    return shape_of(form_of(sheet.web, chosen[0], chosen[1], chosen[2]))
-
-
-def _sheet_of(*shapes):
-    """The sheet of shapes that are drawn together."""
-    check_shapes(*shapes)
-    check_drawn(*shapes)
-    return Sheet([shape.form for shape in shapes])
+    return closure_of(sheet, chosen)
 
 
 def _rows_of(sheet):

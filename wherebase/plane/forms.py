@@ -36,7 +36,7 @@ def _areas(web, rooms_in):
             ring = _ring_from(web, owners, seen, half)
             is_hole = not _is_outer(web, ring)
             found.setdefault(owners[half], []).append((is_hole, _corners_of(web, ring)))
-    return sorted([tuple([ring for _, ring in sorted(rings)]) for rings in list(found.values())])
+    return sorted([tuple([told for _, told in sorted(rings)]) for rings in list(found.values())])
 
 
 def _owners(web, rooms_in, groups):

@@ -4,54 +4,52 @@ from wherebase.errors import InvalidShape
 from wherebase.base.geometry import half_way
 from wherebase.base.points import is_point
 from wherebase.plane.faces import point_in_room
-from wherebase.plane.forms import form_of
-from wherebase.plane.sheets import Sheet
-from wherebase.shape.shapes import check_drawn, check_shapes, shape_of
+from wherebase.shape.shapes import check_drawn, check_shapes, closure_of, sheet_of
 
 
 def joint(*shapes):
     """The union of any number of shapes."""
-    sheet = _sheet_of(shapes)
-    return _closure(sheet, [[bits != 0 for bits in row] for row in sheet.taken()])
+    sheet = sheet_of(*shapes)
+    return closure_of(sheet, [[bits != 0 for bits in row] for row in sheet.taken()])
 
 
 def common(*shapes):
     """The intersection of one or more shapes."""
     if not shapes:
         raise InvalidShape("no shapes have everything in common")
-    sheet = _sheet_of(shapes)
+    sheet = sheet_of(*shapes)
     every = (1 << len(shapes)) - 1
-    return _closure(sheet, [[bits == every for bits in row] for row in sheet.taken()])
+    return closure_of(sheet, [[bits == every for bits in row] for row in sheet.taken()])
 
 
 def less(shape, *others):
     """The closure of the points of a shape that lie in none of the others."""
-    sheet = _sheet_of((shape, *others))
-    return _closure(sheet, [[bits == 1 for bits in row] for row in sheet.taken()])
+    sheet = sheet_of(shape, *others)
+    return closure_of(sheet, [[bits == 1 for bits in row] for row in sheet.taken()])
 
 
 def either(shape, other_shape):
     """The joint of each of two shapes less the other one."""
-    sheet = _sheet_of((shape, other_shape))
-    return _closure(sheet, [[bits in (1, 2) for bits in row] for row in sheet.taken()])
+    sheet = sheet_of(shape, other_shape)
+    return closure_of(sheet, [[bits in (1, 2) for bits in row] for row in sheet.taken()])
 
 
 def cut_up(shape, other_shape):
     """The triple of the one shape less the other one, the common part, and the other one less the one."""
-    sheet = _sheet_of((shape, other_shape))
+    sheet = sheet_of(shape, other_shape)
     rows = sheet.taken()
-    return tuple([_closure(sheet, [[bits == told for bits in row] for row in rows]) for told in (1, 3, 2)])
+    return tuple([closure_of(sheet, [[bits == told for bits in row] for row in rows]) for told in (1, 3, 2)])
 
 
 def covers(shape, *others):
     """Whether a shape lies in the joint of the others."""
-    rows = _sheet_of((shape, *others)).taken()
+    rows = sheet_of(shape, *others).taken()
     return not any([1 in row for row in rows])
 
 
 def open_point(shape, *others):
     """Any point of a shape that lies in none of the others, or None."""
-    sheet = _sheet_of((shape, *others))
+    sheet = sheet_of(shape, *others)
     web = sheet.web
     spots, ties, rooms = sheet.taken()
     if 1 in rooms:
@@ -66,7 +64,6 @@ def open_point(shape, *others):
 
 def is_open_point(value, shape, *others):
     """Whether the value is a point of a shape that lies in none of the others, or None if there is none."""
-    check_shapes(shape, *others)
     check_drawn(shape, *others)
     if value is None:
         return covers(shape, *others)
@@ -81,15 +78,3 @@ def greatest(shape):
     found.extend([number for piece in pieces for end in piece for number in end])
     found.extend([number for point in points for number in point])
     return max([abs(number) for number in found], default=0)
-
-
-def _sheet_of(shapes):
-    """The sheet of shapes that are drawn together."""
-    check_shapes(*shapes)
-    check_drawn(*shapes)
-    return Sheet([shape.form for shape in shapes])
-
-
-def _closure(sheet, chosen):
-    """The shape that is the closure of chosen cells: three lists of truth values."""
-    return shape_of(form_of(sheet.web, chosen[0], chosen[1], chosen[2]))

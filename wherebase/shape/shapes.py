@@ -100,8 +100,24 @@ def check_told_size(count):
 
 
 def check_drawn(*shapes):
-    """Refuses shapes that are together too large to be drawn; the limit is that for what is told."""
+    """Refuses values of which one is no shape, and shapes that are together too large to be drawn."""
+    check_shapes(*shapes)
+    # the limit is the same as for what is told
     check_told_size(sum([len(shape) for shape in shapes]))
+
+
+def sheet_of(*shapes):
+    """The sheet of shapes that are drawn together."""
+    check_drawn(*shapes)
+    return Sheet([shape.form for shape in shapes])
+
+
+def closure_of(sheet, chosen):
+    """The shape that is the closure of chosen cells of a sheet.
+
+    Three lists of truth values choose them: for the corners, the edges and the rooms.
+    """
+    return shape_of(form_of(sheet.web, *chosen))
 
 
 def area(*corners):
@@ -121,7 +137,7 @@ def line(*corners):
     if not are_told_corners(corners) or len(corners) < 2:
         raise InvalidShape("no line is told")
     check_told_size(len(corners))
-    return Shape((), tuple(list(zip(corners, corners[1:]))), ())
+    return Shape((), tuple(zip(corners, corners[1:])), ())
 
 
 def dots(*points):
@@ -206,11 +222,9 @@ def area_shapes(shape):
 
 def without_holes(shape):
     """The joint of a shape and of all bounded connected parts of what is outside of it."""
-    check_shapes(shape)
-    check_drawn(shape)
-    web = Sheet([shape.form]).web
-    rooms_in = [room > 0 for room in range(web.room_count)]
-    return shape_of(form_of(web, [True] * len(web.spots), [True] * len(web.ties), rooms_in))
+    sheet = sheet_of(shape)
+    rooms_in = [room > 0 for room in range(sheet.web.room_count)]
+    return closure_of(sheet, ([True] * len(sheet.web.spots), [True] * len(sheet.web.ties), rooms_in))
 
 
 def knots(shape):
