@@ -33,11 +33,11 @@ BARRED_STARTS = re.compile(
     r"_(wall|pe_|dcw_|enum_|cm_|twin_re_|lay_|law_|stub_|sre|WallAttr)|"
     r"(_cold|_tuplegetter|_outside|_record|_written_out|_member_names)[0-9_]*$"
 )
-LIBRARY = {"math": {"gcd", "lcm", "isqrt"}, "heapq": {"heappush", "heappop"}, "itertools": {"product", "combinations"}}
+LIBRARY = {"math": {"gcd", "lcm", "isqrt"}}
 ITERATED = {"zip", "enumerate", "reversed", "range", "map"}
 TAKERS = {"list", "tuple", "dict", "sorted", "sum", "any", "all", "enumerate", "zip", "min", "max", "len"}
 BARRED_NODES = (
-    ast.Global, ast.Nonlocal, ast.AsyncFunctionDef, ast.Await, ast.GeneratorExp, ast.Try, ast.Lambda, ast.SetComp,
+    ast.Global, ast.Nonlocal, ast.AsyncFunctionDef, ast.Await, ast.GeneratorExp, ast.Try, ast.Lambda,
     ast.Div, ast.MatMult, ast.Import, ast.With, ast.Yield, ast.YieldFrom, ast.AnnAssign,
 )
 
@@ -208,12 +208,17 @@ class LanguageTest(unittest.TestCase):
                 for child in ast.iter_child_nodes(node):
                     parents[child] = node
             for node in ast.walk(tree):
-                if not isinstance(node, ast.Call):
+                if not isinstance(node, (ast.Call, ast.SetComp)):
                     continue
                 where = f"{path}:{node.lineno}"
                 parent = parents[node]
-                if isinstance(node.func, ast.Name) and node.func.id == "set" and node.args:
+                if isinstance(node, ast.SetComp) or isinstance(node.func, ast.Name) and node.func.id == "set":
                     self.assertTrue(isinstance(parent, ast.Call) and parent.func.id in ("sorted", "len"), where)
+                    continue
+                if isinstance(node.func, ast.Name) and node.func.id == "iter":
+                    self.assertEqual(ast.unparse(parent), f"return iter(self.{node.args[0].attr})", where)
+                if any(isinstance(value, ast.Starred) for value in node.args):
+                    self.check_stars(node, where)
                 is_view = isinstance(node.func, ast.Attribute) and node.func.attr in ("items", "keys", "values")
                 if is_view or isinstance(node.func, ast.Name) and node.func.id in ITERATED:
                     is_looped = isinstance(parent, (ast.For, ast.comprehension)) and parent.iter is node
@@ -221,6 +226,15 @@ class LanguageTest(unittest.TestCase):
                         isinstance(parent, ast.Call) and isinstance(parent.func, ast.Name) and parent.func.id in TAKERS
                     )
                     self.assertTrue(is_looped or is_taken, where)
+
+    def check_stars(self, node, where):
+        self.assertIsInstance(node.func, ast.Name, where)
+        self.assertFalse(hasattr(builtins, node.func.id), where)
+        for value in node.args:
+            if isinstance(value, ast.Starred):
+                self.assertIsInstance(value.value, ast.Name, where)
+            else:
+                self.assertIsInstance(value, (ast.Name, ast.Attribute), where)
 
     def test_calls_of_builtins(self):
         for where, node in self.nodes(ast.Call):

@@ -15,11 +15,14 @@ def lowest_point(x, y, w):
     return (x // shared, y // shared, w // shared)
 
 
+def crossed(one, two):
+    """The line through two points, with a common divisor of its numbers left in."""
+    return (one[1] * two[2] - one[2] * two[1], one[2] * two[0] - one[0] * two[2], one[0] * two[1] - one[1] * two[0])
+
+
 def line_through(one, two):
     """The line through two points, greater than 0 at the left of the way from the first to the second one."""
-    a = one[1] * two[2] - one[2] * two[1]
-    b = one[2] * two[0] - one[0] * two[2]
-    c = one[0] * two[1] - one[1] * two[0]
+    a, b, c = crossed(one, two)
     shared = gcd(a, b, c)
     return (a // shared, b // shared, c // shared)
 
@@ -55,10 +58,7 @@ def sign_of(number):
 
 def turn(one, two, three):
     """1 if the way through three points turns counter-clockwise, -1 if clockwise, 0 if it is straight."""
-    a = one[1] * two[2] - one[2] * two[1]
-    b = one[2] * two[0] - one[0] * two[2]
-    c = one[0] * two[1] - one[1] * two[0]
-    return sign_of(a * three[0] + b * three[1] + c * three[2])
+    return sign_of(value_at(crossed(one, two), three))
 
 
 def way(start, end):

@@ -1,6 +1,6 @@
 """Integers, names and fractions."""
 
-from math import gcd
+from math import gcd, lcm
 
 from wherebase.errors import InvalidNumber
 
@@ -70,6 +70,14 @@ def whole_above(one):
     """The least integer that is at least the fraction."""
     _check(one)
     return -(-one[0] // one[1])
+
+
+def total_of(pairs):
+    """The sum of the quotients of some pairs of integers, a fraction; the bottoms are at least 1."""
+    shared = 1
+    for _, bottom in pairs:
+        shared = lcm(shared, bottom)
+    return _lowest(sum([top * (shared // bottom) for top, bottom in pairs]), shared)
 
 
 def _lowest(top, bottom):

@@ -46,6 +46,22 @@ def point_in_room(web, room):
     return half_way(point, top_above(web, point))
 
 
+def chosen_point(web, chosen):
+    """A point of a chosen cell of the greatest dimension, or None if no cell is chosen.
+
+    Three lists of truth values choose cells: for the corners, the edges and the rooms.
+    """
+    spots_in, ties_in, rooms_in = chosen
+    if True in rooms_in:
+        return point_in_room(web, rooms_in.index(True))
+    if True in ties_in:
+        start, end = web.ties[ties_in.index(True)]
+        return half_way(web.spots[start], web.spots[end])
+    if True in spots_in:
+        return web.spots[spots_in.index(True)]
+    return None
+
+
 def triangle_in_room(web, room):
     """Three corners of a triangle whose inside lies in a room."""
     if room == 0:

@@ -10,25 +10,46 @@ def form_of(web, spots_in, ties_in, rooms_in):
     """
     threads = [ties_in[tie] and not rooms_in[web.rooms_left[2 * tie]] and not rooms_in[web.rooms_left[2 * tie + 1]]
                for tie in range(len(web.ties))]
-    areas = _areas(web, rooms_in)
-    pieces = _pieces(web, threads)
+    areas = sorted(list(_areas(web, _owners(web, rooms_in)).values()))
+    pieces = pieces_of(web, [tie for tie in range(len(web.ties)) if threads[tie]])
     points = [spot for spot in range(len(web.spots)) if spots_in[spot] and _is_alone(web, spot, threads, rooms_in)]
-    spots = web.spots
-    return (
-        tuple([tuple([tuple([spots[spot] for spot in ring]) for ring in rings]) for rings in areas]),
-        tuple([(spots[start], spots[end]) for start, end in pieces]),
-        tuple([spots[spot] for spot in points]),
-    )
+    return (tuple([_in_points(web, rings) for rings in areas]), pieces, tuple([web.spots[spot] for spot in points]))
 
 
-def _areas(web, rooms_in):
-    """The areas, ascending, each the tuple of its rings: tuples of corners."""
-    groups = Groups(web.room_count)
-    for tie in range(len(web.ties)):
-        left, right = web.rooms_left[2 * tie], web.rooms_left[2 * tie + 1]
-        if rooms_in[left] and rooms_in[right]:
-            groups.unite(left, right)
-    owners = _owners(web, rooms_in, groups)
+def room_areas(web):
+    """A dict from each bounded room to the area that is its closure."""
+    owners = []
+    for half, room in enumerate(web.rooms_left):
+        owners.append(room if room > 0 and web.rooms_left[half ^ 1] != room else -1)
+    return {room: _in_points(web, rings) for room, rings in _areas(web, owners).items()}
+
+
+def pieces_of(web, ties):
+    """The pieces, ascending, of which some edges consist."""
+    leaving = {}
+    for tie in ties:
+        for half in (2 * tie, 2 * tie + 1):
+            leaving.setdefault(web.tail(half), []).append(half)
+    knots = {spot: _is_knot(web, halves) for spot, halves in leaving.items()}
+    found = []
+    for spot in knots:
+        if knots[spot]:
+            for half in leaving[spot]:
+                end = _straight_on(web, leaving, knots, half)
+                if spot < end:
+                    found.append((spot, end))
+    return tuple([(web.spots[start], web.spots[end]) for start, end in sorted(found)])
+
+
+def _in_points(web, rings):
+    return tuple([tuple([web.spots[spot] for spot in ring]) for ring in rings])
+
+
+def _areas(web, owners):
+    """A dict from owners to their areas, each the tuple of its rings: tuples of corners.
+
+    `owners` has for each half the owner of the area that it borders with its left side, -1 if it borders none.
+    """
     found = {}
     seen = [False] * len(web.turns)
     for half in range(len(web.turns)):
@@ -36,11 +57,16 @@ def _areas(web, rooms_in):
             ring = _ring_from(web, owners, seen, half)
             is_hole = not _is_outer(web, ring)
             found.setdefault(owners[half], []).append((is_hole, _corners_of(web, ring)))
-    return sorted([tuple([told for _, told in sorted(rings)]) for rings in list(found.values())])
+    return {owner: tuple([told for _, told in sorted(rings)]) for owner, rings in found.items()}
 
 
-def _owners(web, rooms_in, groups):
-    """For each half the area that it borders with its left side, -1 if it borders none."""
+def _owners(web, rooms_in):
+    """For each half the area that it borders with its left side, told by its least room, -1 if it borders none."""
+    groups = Groups(web.room_count)
+    for tie in range(len(web.ties)):
+        left, right = web.rooms_left[2 * tie], web.rooms_left[2 * tie + 1]
+        if rooms_in[left] and rooms_in[right]:
+            groups.unite(left, right)
     owners = []
     for half in range(len(web.turns)):
         room = web.rooms_left[half]
@@ -84,25 +110,9 @@ def _corners_of(web, ring):
     return tuple(bends[first:] + bends[:first])
 
 
-def _pieces(web, threads):
-    """The pieces, ascending, as pairs of corners."""
-    leaving = [[half for half in halves if threads[half // 2]] for halves in web.leaving]
-    knots = [_is_knot(web, halves) for halves in leaving]
-    found = []
-    for spot in range(len(knots)):
-        if knots[spot]:
-            for half in leaving[spot]:
-                end = _straight_on(web, leaving, knots, half)
-                if spot < end:
-                    found.append((spot, end))
-    return sorted(found)
-
-
 def _is_knot(web, halves):
     """Whether lines that leave a corner make a knot there."""
-    if len(halves) != 2:
-        return len(halves) > 0
-    return abs(web.turns[halves[0]] - web.turns[halves[1]]) != web.half_turn
+    return len(halves) != 2 or abs(web.turns[halves[0]] - web.turns[halves[1]]) != web.half_turn
 
 
 def _straight_on(web, leaving, knots, half):

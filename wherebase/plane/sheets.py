@@ -78,6 +78,16 @@ class Sheet:
         rows = (self.spot_bits, self.tie_bits, self.room_bits)
         return [[inside | border for inside, border in row] for row in rows]
 
+    def outlined(self):
+        """Two lists, of the corners and the edges: for each cell the bits of the forms whose outlines hold it."""
+        web = self.web
+        # a cell that is inside of a form and has a room of its body beside it lies within the body
+        spots = [border | inside & ~self.room_bits[web.room_around(spot)][0]
+                 for spot, (inside, border) in enumerate(self.spot_bits)]
+        ties = [border | inside & ~self.room_bits[web.rooms_left[2 * tie]][0]
+                for tie, (inside, border) in enumerate(self.tie_bits)]
+        return spots, ties
+
 
 def place_at(bits, index):
     """The index, among the words of places, of the place of a cell in one form."""

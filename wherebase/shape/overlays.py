@@ -1,10 +1,9 @@
 """Overlays: shapes that are put together of the cells of other shapes."""
 
 from wherebase.errors import InvalidShape
-from wherebase.base.geometry import half_way
 from wherebase.base.points import is_point
-from wherebase.plane.faces import point_in_room
-from wherebase.shape.shapes import check_drawn, check_shapes, closure_of, sheet_of
+from wherebase.plane.faces import chosen_point
+from wherebase.shape.shapes import check_drawn, check_shapes, closure_of, mark_points, sheet_of
 
 
 def joint(*shapes):
@@ -50,16 +49,7 @@ def covers(shape, *others):
 def open_point(shape, *others):
     """Any point of a shape that lies in none of the others, or None."""
     sheet = sheet_of(shape, *others)
-    web = sheet.web
-    spots, ties, rooms = sheet.taken()
-    if 1 in rooms:
-        return point_in_room(web, rooms.index(1))
-    if 1 in ties:
-        start, end = web.ties[ties.index(1)]
-        return half_way(web.spots[start], web.spots[end])
-    if 1 in spots:
-        return web.spots[spots.index(1)]
-    return None
+    return chosen_point(sheet.web, [[bits == 1 for bits in row] for row in sheet.taken()])
 
 
 def is_open_point(value, shape, *others):
@@ -73,8 +63,4 @@ def is_open_point(value, shape, *others):
 def greatest(shape):
     """The greatest absolute value of an integer in the least form of a shape, 0 if it is empty."""
     check_shapes(shape)
-    areas, pieces, points = shape.form
-    found = [number for rings in areas for ring in rings for corner in ring for number in corner]
-    found.extend([number for piece in pieces for end in piece for number in end])
-    found.extend([number for point in points for number in point])
-    return max([abs(number) for number in found], default=0)
+    return max([abs(number) for mark in mark_points(shape) for number in mark], default=0)

@@ -112,6 +112,22 @@ def sheet_of(*shapes):
     return Sheet([shape.form for shape in shapes])
 
 
+def shapes_of(forms):
+    """The tuple of the shapes with some least forms, ascending by these."""
+    return tuple([shape_of(form) for form in sorted(forms)])
+
+
+def mark_points(shape):
+    """The corners of the rings, the ends of the pieces and the lone points of a shape, ascending."""
+    found = {start: True for start, _ in shape.sides}
+    for piece in shape.pieces:
+        for end in piece:
+            found[end] = True
+    for point in shape.points:
+        found[point] = True
+    return tuple(sorted(list(found)))
+
+
 def closure_of(sheet, chosen):
     """The shape that is the closure of chosen cells of a sheet.
 
@@ -211,7 +227,7 @@ def parts(shape):
         pieces.setdefault(groups.least(many + index), []).append(piece)
     forms = [(tuple(areas.get(group, [])), tuple(pieces.get(group, [])), ()) for group in groups.all_least()]
     forms.extend([((), (), (point,)) for point in shape.points])
-    return tuple([shape_of(form) for form in sorted(forms)])
+    return shapes_of(forms)
 
 
 def area_shapes(shape):

@@ -1,0 +1,1 @@
+"""Invertible maps of the plane."""

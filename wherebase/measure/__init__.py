@@ -1,0 +1,1 @@
+"""Areas, distances, hulls and other measures of shapes."""

@@ -1,0 +1,1 @@
+"""Nets of lines, and layers of shapes."""
