@@ -7,9 +7,17 @@ import wherebase.base.numbers
 import wherebase.base.points
 import wherebase.draw.drawings
 import wherebase.errors
+import wherebase.maps.maps
+import wherebase.measure.measures
 import wherebase.meet.meets
+import wherebase.net.layers
+import wherebase.net.nets
 import wherebase.shape.overlays
 import wherebase.shape.shapes
+import wherebase.table.conditions
+import wherebase.table.tables
+import wherebase.tree.boxes
+import wherebase.tree.trees
 
 MODULES = (
     wherebase.errors,
@@ -19,6 +27,14 @@ MODULES = (
     wherebase.draw.drawings,
     wherebase.meet.meets,
     wherebase.shape.overlays,
+    wherebase.measure.measures,
+    wherebase.maps.maps,
+    wherebase.net.nets,
+    wherebase.net.layers,
+    wherebase.tree.boxes,
+    wherebase.tree.trees,
+    wherebase.table.tables,
+    wherebase.table.conditions,
 )
 EXAMPLES = os.path.join(os.path.dirname(os.path.abspath(__file__)), "examples.txt")
 
@@ -46,7 +62,7 @@ class ExamplesTest(unittest.TestCase):
                 self.check_raises(code, told[7:], names)
             else:
                 self.assertEqual(repr(eval(code, names)), told, row)
-        self.assertEqual(count, 38)
+        self.assertEqual(count, 83)
 
     def check_raises(self, code, told, names):
         expected = eval(told, names)

@@ -1,0 +1,112 @@
+"""The names, parameters and methods of the interface, as the document lists them."""
+
+import ast
+import importlib
+import inspect
+import os
+import unittest
+
+ROOT = os.path.dirname(os.path.dirname(os.path.abspath(__file__)))
+
+FUNCTIONS = {
+    "wherebase.base.numbers": """is_name(value) is_fraction(value) lowest_of(top, bottom) plus(one, other)
+        minus(one, other) times(one, other) is_less(one, other) whole_below(one) whole_above(one)""",
+    "wherebase.base.points": """is_point(value) is_side(value) point_of(x, y, w=1) turn_of(one, two, three)
+        is_between(point, one, two) line_meet(one, two, three, four) pieces_meet(one, two, three, four)
+        middle_of(one, two) square_between(one, two) sorted_round(centre, points)""",
+    "wherebase.shape.shapes": """area(*corners) filled(*rings) line(*corners) dots(*points) empty() place(shape, point)
+        border(shape) body(shape) lines(shape) lone(shape) parts(shape) area_shapes(shape) without_holes(shape)
+        knots(shape) ring_flaws(ring) is_form(value)""",
+    "wherebase.draw.drawings": "told_drawing(drawing) is_drawing(shapes, value)",
+    "wherebase.meet.meets": """nine(shape, other_shape) relations(shape, other_shape)
+        is_related(shape, other_shape, name) relations_of(numbers) has_pattern(shape, other_shape, pattern)
+        nines(*shapes) witness(shape, other_shape, first_place, second_place)
+        is_witness(shape, other_shape, first_place, second_place, value)
+        meet_shape(shape, other_shape, first_place, second_place)""",
+    "wherebase.shape.overlays": """joint(*shapes) common(*shapes) less(shape, *others) either(shape, other_shape)
+        cut_up(shape, other_shape) covers(shape, *others) open_point(shape, *others)
+        is_open_point(value, shape, *others) greatest(shape)""",
+    "wherebase.measure.measures": """area_of(shape) bounds(shape) square_distance(shape, other_shape)
+        nearest_pair(shape, other_shape) is_nearest_pair(shape, other_shape, value)
+        are_near(shape, other_shape, numerator, denominator) hull(shape) is_convex(shape) middle(shape)
+        some_point(shape) is_some_point(shape, value) enclosed(shape) euler(shape)""",
+    "wherebase.maps.maps": """shift(x, y, *, over=1) stretch(x, y, *, over=1) same() quarter() mirror()
+        map_by(points, images) marks(shape) match(shape, other_shape) is_match(shape, other_shape, value)
+        symmetries(shape)""",
+    "wherebase.net.nets": """outline(shape) threads(shape) stroke_count(shape) strokes(shape) are_strokes(shape, value)
+        loose(shape) sections(shape, other_shape)""",
+    "wherebase.net.layers": """is_layer(value) covered(layer) double(layer) is_division(layer, shape) fault(layer, shape)
+        is_fault(layer, shape, value) refined(layer, other_layer) dissolved(layer, groups) neighbours(layer)
+        arcs(layer) arc_flaws(value) layer_of(arcs) rerouted(layer, index, way)""",
+    "wherebase.tree.boxes": """is_box(value) box_of(shape) are_meeting(box, other_box) side_apart(box, other_box)
+        box_joint(*boxes) box_common(box, other_box)""",
+    "wherebase.tree.trees": "is_right_form(value) form_flaws(value)",
+    "wherebase.table.tables": "",
+    "wherebase.table.conditions": """is_term(table, value) is_condition(table, value) term_value(table, term, number)
+        truth(table, condition, number) truths(table, condition) moved_inwards(table, condition)""",
+}
+CLASSES = {
+    ("wherebase.shape.shapes", "Shape(areas, pieces, points)"): """areas pieces points form dimension __contains__
+        __bool__ __len__ __eq__ __str__""",
+    ("wherebase.draw.drawings", "Drawing(*shapes)"): """shapes corners edges faces parts places cell_of point_in around
+        faces_beside cells_with closed alone __len__ __eq__ __str__""",
+    ("wherebase.maps.maps", "Map(a, b, c, d, e, f, *, over=1)"): """numbers factor __call__ led then __invert__ back
+        keeps_ratios __eq__ __str__""",
+    ("wherebase.tree.trees", "Tree(entries=())"): """told form height boxes box put without moved search search_paper
+        pairs pairs_looked __contains__ __len__ __iter__ __eq__ __str__""",
+    ("wherebase.table.tables", "Table(kinds)"): """kinds columns numbers rows next_number row put change without
+        __contains__ __len__ __iter__ __eq__ __str__""",
+}
+CONSTANTS = {
+    "wherebase.shape.shapes": {"MAX_TOLD": 200},
+    "wherebase.draw.drawings": {"MAX_SHAPES": 8, "MAX_SIZE": 200},
+    "wherebase.meet.meets": {
+        "PLACES": ("inside", "border", "outside"),
+        "RELATIONS": ("apart", "crosses", "enters", "equal", "holds", "meets", "overlaps", "touches", "within"),
+    },
+    "wherebase.net.layers": {"MAX_NAMES": 8},
+    "wherebase.tree.trees": {"MAX_ENTRIES": 300},
+    "wherebase.table.tables": {
+        "MAX_COLUMNS": 8, "MAX_ROWS": 60, "MAX_SIZE": 60, "MAX_TEXT": 40, "KINDS": ("number", "shape", "text"),
+    },
+    "wherebase.table.conditions": {"MAX_PARTS": 60, "MAX_DEPTH": 8},
+}
+
+
+def top_of(module):
+    """The definitions and assignments at the top of a module's own file."""
+    with open(os.path.join(ROOT, *module.split(".")) + ".py", encoding="utf-8") as file:
+        return ast.parse(file.read()).body
+
+
+class InterfaceTest(unittest.TestCase):
+    def test_functions(self):
+        for module, told in FUNCTIONS.items():
+            defined = [node.name for node in top_of(module) if isinstance(node, ast.FunctionDef)]
+            for call in told.replace(")", ")\n").split("\n"):
+                call = " ".join(call.split())
+                if call:
+                    name, parameters = call.split("(", 1)
+                    self.assertIn(name, defined, module)
+                    found = inspect.signature(getattr(importlib.import_module(module), name))
+                    self.assertEqual(str(found), "(" + parameters, f"{module}.{name}")
+
+    def test_classes(self):
+        for (module, call), told in CLASSES.items():
+            name, parameters = call.split("(", 1)
+            found = getattr(importlib.import_module(module), name)
+            self.assertEqual(str(inspect.signature(found)), "(" + parameters)
+            own = [node for node in top_of(module) if isinstance(node, ast.ClassDef) and node.name == name]
+            methods = [node.name for node in own[0].body if isinstance(node, ast.FunctionDef)]
+            self.assertEqual([method for method in told.split() if method not in methods], [])
+
+    def test_constants(self):
+        for module, told in CONSTANTS.items():
+            assigned = [node.targets[0].id for node in top_of(module) if isinstance(node, ast.Assign)]
+            for name, value in told.items():
+                self.assertIn(name, assigned)
+                self.assertEqual(getattr(importlib.import_module(module), name), value)
+
+
+if __name__ == "__main__":
+    unittest.main()

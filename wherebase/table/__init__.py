@@ -1,0 +1,1 @@
+"""Tables of rows, and conditions about them."""

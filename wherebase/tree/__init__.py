@@ -1,0 +1,1 @@
+"""Boxes with integers as ends, and trees of them."""
