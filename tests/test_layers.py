@@ -148,6 +148,8 @@ class FaultsTest(unittest.TestCase):
             (-1, 2, 1)) for name in (*NO_SHAPES, ["b"], {"b": 1})]
         wrong += [(word, (), (2, 2, 1)) for word in NO_SHAPES] + [("beyond", "b", (-1, 2, 1)), ("beyond", ["b"], (-1, 2, 1))]
         wrong += [("gap", (), (True, 2, 1)), ("gap", (), (2, 2))]
+        wrong += [(word, ("b",), (-1, 2, 1)) for word in (*NO_SHAPES, "double", "gap", "Beyond", "")]
+        wrong += [("double", ("a", "b"), point) for point in NO_POINTS] + [("beyond", ("b",), point) for point in NO_POINTS]
         for value in (*wrong, *[value for value in NO_SHAPES if value is not None], *NO_POINTS):
             self.assertIs(is_fault(layer, SQUARE, value), False, value)
         self.assertIs(is_fault(layer, SQUARE, ("beyond", ("b",), (-1, 2, 1))), True)
@@ -486,6 +488,9 @@ class ReroutedTest(unittest.TestCase):
             way((2, 0), (3, 3), (1, 3), (3, 1), (2, 4))]
         for value in wrong:
             self.assertIsInstance(raised(rerouted, LOTS, 1, value), InvalidArcs, value)
+        # a closed arc begins where it did
+        for value in (way((4, 0), (0, 0), (0, 4), (4, 4), (4, 0)), way((0, 0), (0, 4), (4, 4), (4, 0))):
+            self.assertIsInstance(raised(rerouted, {"a": SQUARE}, 0, value), InvalidArcs)
         long = ((2, 0, 1), *[led((1, 0, 0, 1, 0, 0, 50), (101 + k % 2, k)) for k in range(1, 199)], (2, 4, 1))
         self.assertEqual(raised(rerouted, LOTS, 1, long).limit, 200)
         self.assertIsNone(raised(rerouted, LOTS, 1, (long[0], *long[10:-1], long[-1])))
@@ -534,7 +539,8 @@ class WrongLayersTest(unittest.TestCase):
         self.assertEqual(len(refined(EIGHT, LOTS)), 10)
 
     def test_arcs_of_layers_that_are_not_plain(self):
-        for layer in ({"a": ROAD}, {"a": SQUARE, "b": EMPTY}, {"a": MIX}, {"a": joint(SQUARE, dots((9, 9)))},
+        for layer in ({"a": ROAD}, {"a": SQUARE, "b": EMPTY}, {"a": MIX}, {"a": joint(SQUARE, ROAD)},
+            {"a": joint(SQUARE, dots((9, 9)))},
             {**NINE, "z": WELL}, LARGE):
             self.assertIsInstance(raised(arcs, layer), InvalidOperation)
 

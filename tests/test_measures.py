@@ -143,6 +143,10 @@ class DistanceTest(unittest.TestCase):
         self.assertEqual(square_distance(slope, dots((8, 5))), (144, 25))
         self.assertEqual(square_distance(point, dot), (29, 1))
         self.assertEqual(square_distance(line((0, 0), (4, 3)), dots((0, 5))), (16, 1))
+        # the nearest points lie near the ends, but are not the ends
+        self.assertEqual(square_distance(line((0, 0), (2, 1)), dots((0, 1))), (4, 5))
+        self.assertEqual(square_distance(line((0, 0), (2, 1)), dots((2, 0))), (4, 5))
+        self.assertEqual(nearest_pair(line((0, 0), (2, 1)), dots((0, 1))), ((2, 1, 5), (0, 1, 1)))
 
     def test_common_points(self):
         for one, other in (

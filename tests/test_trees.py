@@ -317,6 +317,8 @@ class FormFlawsTest(unittest.TestCase):
         five = ("leaf", tuple((number, LOW) for number in range(5)))
         one = ("leaf", ((1, LOW),))
         deep = ("node", ((AROUND, LEAF), (AROUND, OTHER)))
+        further = ("leaf", ((5, LOW), (6, HIGH))), ("leaf", ((7, LOW), (8, HIGH)))
+        inner_wrong = ("node", ((AROUND, further[0]), (LOW, further[1])))
         for value, expected in (
             (("leaf", ()), ()), (one, ()), (LEAF, ()), (FORM, ()), (five, ("size",)),
             (("leaf", ((1, LOW), (1, HIGH))), ("twice",)),
@@ -324,6 +326,7 @@ class FormFlawsTest(unittest.TestCase):
             (("node", ((LOW, one), (AROUND, OTHER))), ("size",)),
             (("node", ((AROUND, LEAF), (AROUND, OTHER))), ()), (("node", ((AROUND, LEAF), ((0, 0, 3, 5), OTHER))), ("box",)),
             (("node", ((AROUND, LEAF), ((0, 0, 3, 3), OTHER))), ("box",)),
+            (("node", ((AROUND, deep), (AROUND, inner_wrong))), ("box",)),
             (("node", ((AROUND, LEAF), (AROUND, LEAF))), ("twice",)),
             (("node", ((AROUND, LEAF), (LOW, ("leaf", ())))), ("box", "size")),
             (("node", ((AROUND, LEAF), (LOW, ("node", ())))), ("box", "size")),

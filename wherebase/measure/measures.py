@@ -52,7 +52,7 @@ def nearest_pair(shape, other_shape):
 def is_nearest_pair(shape, other_shape, value):
     """Whether the value is a pair of points of two shapes that are as near as can be."""
     square = square_distance(shape, other_shape)
-    if square is None or not isinstance(value, tuple) or len(value) != 2:
+    if not isinstance(value, tuple) or len(value) != 2:
         return False
     return value[0] in shape and value[1] in other_shape and square_between(value[0], value[1]) == square
 

@@ -61,8 +61,8 @@ def fault(layer, shape):
 def is_fault(layer, shape, value):
     """Whether the value is a fault of a layer for a shape, or None if there is none."""
     found = fault(layer, shape)
-    if value is None or found is None:
-        return value is None and found is None
+    if found is None:
+        return value is None
     if not isinstance(value, tuple) or len(value) != 3:
         return False
     word, names, point = value

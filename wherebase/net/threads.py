@@ -29,7 +29,7 @@ def threads_of(pieces):
                     found.append(_thread_from(links, passed, knot, end))
     # what is left goes through no fork; the first knot of it that is met is its least one
     for knot, ends in links.items():
-        if len(ends) == 2 and (knot, ends[0]) not in passed:
+        if (knot, ends[0]) not in passed:
             found.append(_thread_from(links, passed, knot, ends[0]))
     return tuple(sorted([min(thread, thread[::-1]) for thread in found]))
 
@@ -40,7 +40,8 @@ def _thread_from(links, passed, knot, end):
     _pass(passed, knot, end)
     while len(links[end]) == 2 and end != thread[0]:
         one, other = links[end]
-        knot, end = end, other if one == knot else one
+        following = other if one == knot else one
+        knot, end = end, following
         thread.append(end)
         _pass(passed, knot, end)
     return tuple(thread)

@@ -120,7 +120,7 @@ class Tree:
         return isinstance(other, Tree) and self._form == other._form
 
     def __str__(self):
-        return f"tree of {len(self._boxes)} boxes, {1 + leaf_depths(self._form)[0]} high"
+        return f"tree of {len(self._boxes)} boxes, {self.height} high"
 
 
 def is_right_form(value):
