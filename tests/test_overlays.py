@@ -204,6 +204,8 @@ class PointsOfOverlaysTest(unittest.TestCase):
                 self.assertEqual([place(two, found), place(three, found)], ["outside", "outside"])
         self.assertEqual(open_point(WELL, FRAME), (2, 2, 1))
         self.assertIn(open_point(ROAD, SQUARE), less(ROAD, SQUARE))
+        self.assertEqual(place(SQUARE, open_point(SQUARE, border(SQUARE))), "inside")
+        self.assertEqual(place(ROAD, open_point(ROAD, border(ROAD))), "inside")
         self.assertIsNone(open_point(EMPTY))
 
     def test_is_open_point(self):

@@ -17,7 +17,8 @@ class Map:
     def __init__(self, a, b, c, d, e, f, *, over=1):
         for number in (a, b, c, d, e, f):
             _check_integer(number)
-        _check_over(over)
+        if not is_integer(over) or over < 1:
+            raise InvalidNumber(over)
         if a * d == b * c:
             raise InvalidMap("no map leads all points back")
         self._numbers = least_numbers(a, b, c, d, e, f, over)
@@ -72,7 +73,6 @@ def shift(x, y, *, over=1):
     """The map that adds x / over to first coordinates and y / over to second ones."""
     for number in (x, y):
         _check_integer(number)
-    _check_over(over)
     return Map(over, 0, 0, over, x, y, over=over)
 
 
@@ -82,7 +82,6 @@ def stretch(x, y, *, over=1):
         _check_integer(number)
         if number == 0:
             raise InvalidNumber(number)
-    _check_over(over)
     return Map(x, 0, 0, y, 0, 0, over=over)
 
 
@@ -141,11 +140,6 @@ def symmetries(shape):
 
 def _check_integer(value):
     if not is_integer(value):
-        raise InvalidNumber(value)
-
-
-def _check_over(value):
-    if not is_integer(value) or value < 1:
         raise InvalidNumber(value)
 
 
