@@ -12,6 +12,10 @@ import wherebase.measure.measures
 import wherebase.meet.meets
 import wherebase.net.layers
 import wherebase.net.nets
+import wherebase.plan.joins
+import wherebase.plan.plans
+import wherebase.plan.questions
+import wherebase.plan.windows
 import wherebase.shape.overlays
 import wherebase.shape.shapes
 import wherebase.table.conditions
@@ -35,6 +39,10 @@ MODULES = (
     wherebase.tree.trees,
     wherebase.table.tables,
     wherebase.table.conditions,
+    wherebase.plan.questions,
+    wherebase.plan.windows,
+    wherebase.plan.plans,
+    wherebase.plan.joins,
 )
 EXAMPLES = os.path.join(os.path.dirname(os.path.abspath(__file__)), "examples.txt")
 
@@ -62,7 +70,7 @@ class ExamplesTest(unittest.TestCase):
                 self.check_raises(code, told[7:], names)
             else:
                 self.assertEqual(repr(eval(code, names)), told, row)
-        self.assertEqual(count, 83)
+        self.assertEqual(count, 96)
 
     def check_raises(self, code, told, names):
         expected = eval(told, names)

@@ -4,6 +4,7 @@ import ast
 import importlib
 import inspect
 import os
+import re
 import unittest
 
 ROOT = os.path.dirname(os.path.dirname(os.path.abspath(__file__)))
@@ -44,6 +45,15 @@ FUNCTIONS = {
     "wherebase.table.tables": "",
     "wherebase.table.conditions": """is_term(table, value) is_condition(table, value) term_value(table, term, number)
         truth(table, condition, number) truths(table, condition) moved_inwards(table, condition)""",
+    "wherebase.plan.questions": """answer(table, condition, *, order=(), limit=None) is_order(table, value)
+        nearest(table, column, shape, count)""",
+    "wherebase.plan.windows": "window(table, condition, column)",
+    "wherebase.plan.plans": """tree_of(table, column) are_fitting(table, value)
+        run(table, trees, condition, plan, *, order=(), limit=None) plans(table, trees, condition)
+        best_plan(table, trees, condition) reasons(table, trees, condition, plan, *, order=(), limit=None)""",
+    "wherebase.plan.joins": """is_join(one_table, other_table, value) pairs(one_table, other_table, join)
+        kept_pairs(one_table, other_table, join)
+        run_join(one_table, other_table, join, plan, *, one_tree=None, other_tree=None)""",
 }
 CLASSES = {
     ("wherebase.shape.shapes", "Shape(areas, pieces, points)"): """areas pieces points form dimension __contains__
@@ -70,6 +80,8 @@ CONSTANTS = {
         "MAX_COLUMNS": 8, "MAX_ROWS": 60, "MAX_SIZE": 60, "MAX_TEXT": 40, "KINDS": ("number", "shape", "text"),
     },
     "wherebase.table.conditions": {"MAX_PARTS": 60, "MAX_DEPTH": 8},
+    "wherebase.plan.questions": {"MAX_ORDER": 4},
+    "wherebase.plan.plans": {"ROW_COST": 10},
 }
 
 
@@ -83,13 +95,11 @@ class InterfaceTest(unittest.TestCase):
     def test_functions(self):
         for module, told in FUNCTIONS.items():
             defined = [node.name for node in top_of(module) if isinstance(node, ast.FunctionDef)]
-            for call in told.replace(")", ")\n").split("\n"):
-                call = " ".join(call.split())
-                if call:
-                    name, parameters = call.split("(", 1)
-                    self.assertIn(name, defined, module)
-                    found = inspect.signature(getattr(importlib.import_module(module), name))
-                    self.assertEqual(str(found), "(" + parameters, f"{module}.{name}")
+            for call in re.findall(r"\w+\((?:[^()]|\(\))*\)", told):
+                name, parameters = call.split("(", 1)
+                self.assertIn(name, defined, module)
+                found = inspect.signature(getattr(importlib.import_module(module), name))
+                self.assertEqual(str(found), "(" + parameters, f"{module}.{name}")
 
     def test_classes(self):
         for (module, call), told in CLASSES.items():

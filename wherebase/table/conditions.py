@@ -47,26 +47,27 @@ def term_value(table, term, number):
 
 def truth(table, condition, number):
     """True or False if a condition is so of a row, None if it is unknown."""
-    _check_condition(table, condition)
-    return _truth_in(table.row(number), condition)
+    check_condition(table, condition)
+    return truth_in(table.row(number), condition)
 
 
 def truths(table, condition):
     """The dict from the numbers of all rows of a table to the truths of a condition."""
-    _check_condition(table, condition)
-    return {number: _truth_in(row, condition) for number, row in table.rows.items()}
+    check_condition(table, condition)
+    return {number: truth_in(row, condition) for number, row in table.rows.items()}
 
 
 def moved_inwards(table, condition):
     """The condition with the same truths in which "not" stands only right at conditions without others within."""
-    _check_condition(table, condition)
+    check_condition(table, condition)
     moved = _moved(condition, False)
     if _part_count(moved) > MAX_PARTS:
         raise TooMany(MAX_PARTS)
     return moved
 
 
-def _check_condition(table, value):
+def check_condition(table, value):
+    """Refuses a value that is no condition about the rows of a table."""
     if not is_condition(table, value):
         raise InvalidCondition("no condition about the rows of the table")
 
@@ -111,14 +112,14 @@ def _part_count(condition):
     return 1 + len(terms) + len(inner) + sum([_part_count(part) for part in _conditions_of(condition)])
 
 
-def _truth_in(row, condition):
-    """The truth of a condition of a row."""
+def truth_in(row, condition):
+    """The truth of a condition of a row, for callers that have checked it."""
     word = condition[0]
     if word == "not":
-        inner = _truth_in(row, condition[1])
+        inner = truth_in(row, condition[1])
         return None if inner is None else not inner
     if word in ("and", "or"):
-        found = [_truth_in(row, part) for part in condition[1:]]
+        found = [truth_in(row, part) for part in condition[1:]]
         # one condition that is true settles "or", one that is false settles "and"
         settling = word == "or"
         if settling in found:
@@ -129,11 +130,11 @@ def _truth_in(row, condition):
         return values[0] is None
     if None in values:
         return None
-    return _is_true_of(condition, values[0], values[1])
+    return is_true_of(condition, values[0], values[1])
 
 
-def _is_true_of(condition, one, other):
-    """Whether a condition about two terms is true of their values."""
+def is_true_of(condition, one, other):
+    """Whether a condition about two terms is true of their values; numbers are fractions only for "less"."""
     word = condition[0]
     if word == "same":
         return one == other

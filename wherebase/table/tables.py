@@ -1,6 +1,6 @@
 """Tables: rows with numbers, and columns of kinds."""
 
-from wherebase.errors import InvalidNumber, InvalidRow, InvalidTable, TooMany
+from wherebase.errors import InvalidNumber, InvalidOperation, InvalidRow, InvalidTable, TooMany, UnknownName
 from wherebase.base.numbers import is_integer, is_name
 from wherebase.shape.shapes import Shape
 
@@ -129,3 +129,15 @@ def check_table(value):
     """Refuses a value that is no table."""
     if not isinstance(value, Table):
         raise InvalidTable("no table")
+
+
+def check_column(table, column):
+    """Refuses a value that is no column of a table."""
+    if column not in table.columns:
+        raise UnknownName(column)
+
+
+def check_kind(table, column, *kinds):
+    """Refuses a column that is of none of some kinds."""
+    if table.kinds[column] not in kinds:
+        raise InvalidOperation("not of this kind")

@@ -44,6 +44,17 @@ def entries_of(form):
     return [entry for _, inner in members for entry in entries_of(inner)]
 
 
+def numbers_at(form, place):
+    """The numbers of all entries beneath the branch at a place in a form, or that of the entry there."""
+    for index in place[:-1]:
+        _, form = form[1][index]
+    word, members = form
+    member = members[place[-1]]
+    if word == "leaf":
+        return [member[0]]
+    return [number for number, _ in entries_of(member[1])]
+
+
 def leaf_depths(form):
     """For each leaf of a form how many nodes it stands in."""
     word, members = form

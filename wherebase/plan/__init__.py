@@ -1,0 +1,1 @@
+"""Questions about tables, and the plans that answer them."""
