@@ -5,6 +5,7 @@ import unittest
 
 import wherebase.base.numbers
 import wherebase.base.points
+import wherebase.book.books
 import wherebase.draw.drawings
 import wherebase.errors
 import wherebase.maps.maps
@@ -12,14 +13,17 @@ import wherebase.measure.measures
 import wherebase.meet.meets
 import wherebase.net.layers
 import wherebase.net.nets
+import wherebase.plan.groups
 import wherebase.plan.joins
 import wherebase.plan.plans
 import wherebase.plan.questions
 import wherebase.plan.windows
+import wherebase.rule.rules
 import wherebase.shape.overlays
 import wherebase.shape.shapes
 import wherebase.table.conditions
 import wherebase.table.tables
+import wherebase.text.formats
 import wherebase.tree.boxes
 import wherebase.tree.trees
 
@@ -43,6 +47,10 @@ MODULES = (
     wherebase.plan.windows,
     wherebase.plan.plans,
     wherebase.plan.joins,
+    wherebase.plan.groups,
+    wherebase.rule.rules,
+    wherebase.book.books,
+    wherebase.text.formats,
 )
 EXAMPLES = os.path.join(os.path.dirname(os.path.abspath(__file__)), "examples.txt")
 
@@ -70,7 +78,7 @@ class ExamplesTest(unittest.TestCase):
                 self.check_raises(code, told[7:], names)
             else:
                 self.assertEqual(repr(eval(code, names)), told, row)
-        self.assertEqual(count, 96)
+        self.assertEqual(count, 124)
 
     def check_raises(self, code, told, names):
         expected = eval(told, names)

@@ -54,6 +54,16 @@ FUNCTIONS = {
     "wherebase.plan.joins": """is_join(one_table, other_table, value) pairs(one_table, other_table, join)
         kept_pairs(one_table, other_table, join)
         run_join(one_table, other_table, join, plan, *, one_tree=None, other_tree=None)""",
+    "wherebase.plan.groups": """groups(table, columns, numbers=None) summed(table, numbers, what, column=None)
+        linked(table, column, square)""",
+    "wherebase.rule.rules": """apart_rule(label, table, column, *, at_end=False)
+        single_rule(label, table, column, *, at_end=False)
+        within_rule(label, table, column, other_table, other_column, *, at_end=False)
+        divides_rule(label, table, column, shape, *, at_end=False) check_rule(label, table, condition, *, at_end=False)
+        fits(rule, tables) is_true(rule, tables) breach(rule, tables) breached_rows(rule, tables)
+        is_breach(rule, tables, value)""",
+    "wherebase.book.books": "",
+    "wherebase.text.formats": "write_shape(shape) write_table(table) read_shape(string) read_table(string)",
 }
 CLASSES = {
     ("wherebase.shape.shapes", "Shape(areas, pieces, points)"): """areas pieces points form dimension __contains__
@@ -66,6 +76,22 @@ CLASSES = {
         pairs pairs_looked __contains__ __len__ __iter__ __eq__ __str__""",
     ("wherebase.table.tables", "Table(kinds)"): """kinds columns numbers rows next_number row put change without
         __contains__ __len__ __iter__ __eq__ __str__""",
+    ("wherebase.rule.rules", "Rule(kind, label, places, told, at_end)"): "label kind at_end names __eq__ __str__",
+    ("wherebase.book.books", "Book(tables, *rules)"): """names rules newest table changes begin add_rule remove_rule undo
+        redo __len__ __contains__ __iter__ __str__""",
+    ("wherebase.book.books", "Transaction(book, began, tables, early)"): """is_open began used marks table put change
+        take_out mark back end drop __enter__ __exit__""",
+}
+METHODS = {
+    ("wherebase.tree.trees", "Tree"): """told(form) put(self, number, box) without(self, number) moved(self, number, box)
+        search(self, box) search_paper(self, box) pairs(self, other) pairs_looked(self, other)""",
+    ("wherebase.table.tables", "Table"): """row(self, number) put(self, values) change(self, number, values)
+        without(self, *numbers)""",
+    ("wherebase.book.books", "Book"): """table(self, name, *, version=None) changes(self, version) begin(self)
+        add_rule(self, rule) remove_rule(self, label) undo(self, many=1) redo(self, many=1)""",
+    ("wherebase.book.books", "Transaction"): """table(self, name) put(self, name, values)
+        change(self, name, number, values) take_out(self, name, *numbers) mark(self, label) back(self, label) end(self)
+        drop(self)""",
 }
 CONSTANTS = {
     "wherebase.shape.shapes": {"MAX_TOLD": 200},
@@ -82,6 +108,8 @@ CONSTANTS = {
     "wherebase.table.conditions": {"MAX_PARTS": 60, "MAX_DEPTH": 8},
     "wherebase.plan.questions": {"MAX_ORDER": 4},
     "wherebase.plan.plans": {"ROW_COST": 10},
+    "wherebase.rule.rules": {"RULE_KINDS": ("apart", "check", "divides", "single", "within")},
+    "wherebase.book.books": {"MAX_TABLES": 8, "MAX_RULES": 16, "MAX_VERSIONS": 100},
 }
 
 
@@ -109,6 +137,13 @@ class InterfaceTest(unittest.TestCase):
             own = [node for node in top_of(module) if isinstance(node, ast.ClassDef) and node.name == name]
             methods = [node.name for node in own[0].body if isinstance(node, ast.FunctionDef)]
             self.assertEqual([method for method in told.split() if method not in methods], [])
+
+    def test_methods(self):
+        for (module, name), told in METHODS.items():
+            found = getattr(importlib.import_module(module), name)
+            for call in re.findall(r"\w+\([^()]*\)", told):
+                method, parameters = call.split("(", 1)
+                self.assertEqual(str(inspect.signature(getattr(found, method))), "(" + parameters, f"{module}.{name}.{method}")
 
     def test_constants(self):
         for module, told in CONSTANTS.items():

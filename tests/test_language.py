@@ -184,12 +184,15 @@ class LanguageTest(unittest.TestCase):
                     self.assertIsNone(BARRED_WORDS.search(row.split("#")[0]), f"{path}:{number}")
 
     def test_attributes(self):
-        own, assigned, properties = set(), set(), set()
+        own, assigned, properties, of_classes = set(), set(), set(), set()
         for _, node in self.nodes(ast.ClassDef):
             for part in node.body:
                 if isinstance(part, ast.FunctionDef):
                     is_property = any(name.id == "property" for name in part.decorator_list)
-                    (properties if is_property else own).add(part.name)
+                    is_of_class = part.decorator_list != [] and not is_property
+                    (properties if is_property else of_classes if is_of_class else own).add(part.name)
+        self.assertEqual(of_classes & own, set())
+        own |= of_classes
         for where, node in self.nodes(ast.Attribute):
             if isinstance(node.ctx, ast.Store):
                 assigned.add(node.attr)
@@ -228,8 +231,10 @@ class LanguageTest(unittest.TestCase):
                     self.assertTrue(is_looped or is_taken, where)
 
     def check_stars(self, node, where):
-        self.assertIsInstance(node.func, ast.Name, where)
-        self.assertFalse(hasattr(builtins, node.func.id), where)
+        # of own functions and methods alone
+        self.assertIsInstance(node.func, (ast.Name, ast.Attribute), where)
+        if isinstance(node.func, ast.Name):
+            self.assertFalse(hasattr(builtins, node.func.id), where)
         for value in node.args:
             if isinstance(value, ast.Starred):
                 self.assertIsInstance(value.value, ast.Name, where)

@@ -5,7 +5,7 @@ from wherebase.base.geometry import turn
 from wherebase.base.numbers import is_integer
 from wherebase.base.points import is_point
 from wherebase.draw.drawings import MAX_SHAPES
-from wherebase.plane.faces import triangle_in_room
+from wherebase.plane.faces import chosen_point, triangle_in_room
 from wherebase.plane.sheets import Sheet, place_at
 from wherebase.shape.shapes import check_drawn, check_shapes, closure_of, sheet_of
 
@@ -84,6 +84,12 @@ def is_witness(shape, other_shape, first_place, second_place, value):
     sheet = Sheet([shape.form, other_shape.form, form])
     shown = [bits for row in _rows_of(sheet) for bits in row if place_at(bits, 2) == 0]
     return all([(place_at(bits, 0), place_at(bits, 1)) == wanted for bits in shown])
+
+
+def inside_point(shape, other_shape):
+    """Any point that is inside both of two shapes, or None."""
+    sheet = sheet_of(shape, other_shape)
+    return chosen_point(sheet.web, [[inside == 3 for inside, _ in row] for row in _rows_of(sheet)])
 
 
 def meet_shape(shape, other_shape, first_place, second_place):

@@ -125,6 +125,17 @@ def kind_of_value(value):
     return None
 
 
+def table_of(kinds, rows, next_number):
+    """The table with some rows and a next number, for callers that have checked them."""
+    table = Table(kinds)
+    return table._with({number: dict(row) for number, row in rows.items()}, next_number)
+
+
+def compared(value):
+    """What tells whether values of one kind are equal, and can be a key: of a shape its least form."""
+    return value.form if isinstance(value, Shape) else value
+
+
 def check_table(value):
     """Refuses a value that is no table."""
     if not isinstance(value, Table):

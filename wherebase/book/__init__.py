@@ -1,0 +1,1 @@
+"""Books of tables and rules, with versions."""

@@ -1,0 +1,1 @@
+"""Rules about the rows of tables, and what shows that they are broken."""

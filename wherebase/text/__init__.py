@@ -1,0 +1,1 @@
+"""Strings that tell shapes and tables."""
