@@ -20,6 +20,7 @@ BY_ROAD, CHEAP = ("meets", SPOT, ("value", ROAD)), ("less", WORTH, ("value", 5))
 # (0, 0, 1, 1), (2, 2, 2, 2) and (-3, 0, 9, 1)
 SMALL, DOT, LONG = [("touches", SPOT, ("value", dots(*points))) for points in (
     ((0, 0), (1, 1)), ((2, 2),), ((-3, 0), (9, 1)))]
+FAR, WIDE = [("meets", SPOT, ("value", dots(*points))) for points in (((7, 8), (8, 9)), ((-1, -1), (0, 1)))]
 NEVER, AWAY = ("missing", SPOT), ("apart", SPOT, ("value", WELL))
 
 
@@ -71,6 +72,8 @@ class WindowTest(unittest.TestCase):
             ((NEVER, SMALL), ("none", "all")), ((SMALL, CHEAP, NEVER), ("none", "all")),
             ((SMALL, LONG), ((0, 0, 1, 1), "all")), ((LONG, SMALL), ((0, 0, 1, 1), "all")),
             ((SMALL, DOT), ((2, 2, 2, 2), "all")), ((SMALL, BY_ROAD), (BOX, "all")),
+            # by areas, wherever the boxes lie
+            ((FAR, WIDE), ((7, 8, 8, 9), "all")), ((WIDE, FAR), ((7, 8, 8, 9), "all")), ((WIDE, LONG), ((-1, -1, 0, 1), "all")),
             # no area at all: the least tuple
             ((DOT, BY_ROAD), (BOX, "all")), ((BY_ROAD, DOT, CHEAP), (BOX, "all")),
             ((("not", SMALL), ("not", DOT)), ("all", (0, 0, 2, 2))), ((("not", SMALL), LONG), ((-3, 0, 9, 1), "all")),

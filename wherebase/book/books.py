@@ -107,7 +107,8 @@ class Book:
         for name in used:
             if any([name in names for names in self._changed[began + 1:]]):
                 raise Conflict(name)
-        tables = {**self._versions[-1], **changed}
+        newest = self._versions[-1]
+        tables = {**newest, **changed}
         _check_true(tables, self._rules)
         if changed:
             self._add_version(tables)
@@ -216,10 +217,11 @@ class Transaction:
     def back(self, label):
         """Brings back the tables at a mark."""
         self._check_open()
-        _check_label(label, list(self._marks))
-        kept = list(self._marks)[:list(self._marks).index(label) + 1]
+        labels = list(self._marks)
+        _check_label(label, labels)
         self._tables = self._marks[label]
-        self._marks = {mark: self._marks[mark] for mark in kept}
+        for behind in labels[labels.index(label) + 1:]:
+            del self._marks[behind]
 
     def end(self):
         """Ends the transaction, and returns the number of the newest version."""
@@ -244,7 +246,8 @@ class Transaction:
 
     def _take(self, name, table):
         """Has another table under a name, if all early rules that speak of it stay true."""
-        tables = {**self._tables, name: table}
+        tables = dict(self._tables)
+        tables[name] = table
         asked = [rule for rule in self._early if name in rule.names]
         _check_true(tables, asked)
         self._tables = tables

@@ -62,11 +62,11 @@ class Divides:
         """Whether two rows, a row beyond the told shape, or a gap are shown by a point."""
         if len(rows) == 2:
             return self._apart.is_breach_at(rows, point)
-        if len(rows) > 2 or not is_point(point):
-            return False
         if len(rows) == 1:
             return rows[0] in self._shapes and point in self._shapes[rows[0]] and point not in self._told
-        return point in self._told and not any([point in shape for shape in self._shapes.values()])
+        if len(rows) > 2 or point not in self._told:
+            return False
+        return not any([point in shape for shape in self._shapes.values()])
 
 
 class Within:
@@ -93,7 +93,7 @@ class Within:
 
     def is_breach_at(self, rows, point):
         """Whether a point of the shape of one row lies in none of the others."""
-        if len(rows) != 1 or rows[0] not in self._shapes or not is_point(point):
+        if len(rows) != 1 or rows[0] not in self._shapes:
             return False
         return point in self._shapes[rows[0]] and not any([point in other for other in self._others[rows[0]]])
 

@@ -94,7 +94,8 @@ def _values_of(words, kinds):
         if kinds[column] == "shape":
             end = words.index("}", start) + 1 if "}" in words[start:] else len(words)
         value = _value_of(words[start + 1:end], kinds[column])
-        if value is None or kind_of_value(value) != kinds[column]:
+        # a text can be too long, a shape too great, and what tells no value has no kind
+        if kind_of_value(value) != kinds[column]:
             return None
         found[column] = value
         start = end

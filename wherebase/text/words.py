@@ -5,7 +5,6 @@ from math import gcd
 from wherebase.errors import TooMany
 from wherebase.base.geometry import lowest_point
 from wherebase.base.numbers import lowest_of
-from wherebase.table.tables import MAX_TEXT
 
 MAX_DIGITS = 1000
 
@@ -49,7 +48,7 @@ def text_word(text):
 
 
 def text_of(word):
-    """The text that a word tells, or None."""
+    """The text that a word tells, of any length, or None."""
     signs, is_marked = [], False
     for sign in word[1:]:
         if is_marked:
@@ -63,7 +62,7 @@ def text_of(word):
             signs.append(sign)
         else:
             return None
-    if not word.startswith("=") or is_marked or len(signs) > MAX_TEXT:
+    if not word.startswith("=") or is_marked:
         return None
     return "".join(signs)
 
