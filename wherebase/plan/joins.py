@@ -59,12 +59,8 @@ def run_join(one_table, other_table, join, plan, *, one_tree=None, other_tree=No
         raise InvalidTree("no tree of the first table")
     if plan != _LOOPS and not is_tree_of(other_table, join[2], other_tree):
         raise InvalidTree("no tree of the other table")
+    decided, looked = _decided(one_table, other_table, join, plan, one_tree, other_tree)
     rows, other_rows = one_table.rows, other_table.rows
-    decided, looked = [(number, other) for number in rows for other in other_rows], 0
-    if plan != _LOOPS:
-        boxes = boxes_of(one_table, join[1])
-        met, looked = _met_by_boxes(boxes, other_tree, join) if plan == _TREE else _met(one_tree, other_tree, join)
-        decided = [pair for pair in decided if pair[0] not in boxes or pair[1] not in other_tree or pair in met]
     found = [(number, other) for number, other in decided
              if _is_true(join, rows[number][join[1]], other_rows[other][join[2]])]
     return (tuple(found), ROW_COST * len(decided) + looked)
@@ -80,6 +76,17 @@ def _plans_for(table, join):
     if join[0] == "apart" or table.kinds[join[1]] != "shape":
         return [_LOOPS]
     return [_LOOPS, _TREE, _TREES]
+
+
+def _decided(one_table, other_table, join, plan, one_tree, other_tree):
+    """The ascending list of the pairs that a plan decides, and how many boxes, or pairs of boxes, it compares."""
+    every = [(number, other) for number in one_table for other in other_table]
+    if plan == _LOOPS:
+        return every, 0
+    boxes = boxes_of(one_table, join[1])
+    met, looked = _met_by_boxes(boxes, other_tree, join) if plan == _TREE else _met(one_tree, other_tree, join)
+    # a value that is missing or empty has no box
+    return [pair for pair in every if pair[0] not in boxes or pair[1] not in other_tree or pair in met], looked
 
 
 def _is_true(join, value, other):
