@@ -99,7 +99,8 @@ def searched_both_plainly(form, other):
     (word, members), (other_word, others) = form, other
     boxes = [member[1] if word == "leaf" else member[0] for member in members]
     other_boxes = [member[1] if other_word == "leaf" else member[0] for member in others]
-    met = [(one, two) for one in range(len(boxes)) for two in range(len(other_boxes)) if do_meet(boxes[one], other_boxes[two])]
+    met = [(one, two) for one in range(len(boxes)) for two in range(len(other_boxes)) if do_meet(boxes[one],
+        other_boxes[two])]
     looked = len(boxes) * len(other_boxes)
     if word == other_word == "leaf":
         return [(members[one][0], others[two][0]) for one, two in met], looked

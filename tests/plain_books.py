@@ -3,7 +3,8 @@
 import copy
 
 from wherebase.errors import (
-    Broken, Conflict, InvalidName, InvalidNumber, InvalidOperation, InvalidRow, InvalidRule, NothingToUndo, TakenName, TooMany,
+    Broken, Conflict, InvalidName, InvalidNumber, InvalidOperation, InvalidRow, InvalidRule, NothingToUndo, TakenName,
+    TooMany,
     UnknownName,
 )
 from wherebase.rule.rules import Rule, breach, fits

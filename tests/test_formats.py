@@ -16,10 +16,13 @@ from wherebase.text.formats import read_shape, read_table, write_shape, write_ta
 
 LONG, LONGER = 10 ** 1000 - 1, 10 ** 1000
 NO_STRINGS = (None, True, 5, (), [], {}, b"{ }", ["{", "}"], ("{ }",), SQUARE, Table({"a": "text"}))
-WRONG_INTEGERS = ("", "-", "+1", "01", "00", "-0", "-01", "--1", "1.0", "1e3", "0x1", "a", "1_000", " 1", "1\n", "\t1", "1-", "True",
+WRONG_INTEGERS = ("", "-", "+1", "01", "00", "-0", "-01", "--1", "1.0", "1e3", "0x1", "a", "1_000", " 1", "1\n", "\t1",
+    "1-", "True",
     "9" * 1001, "-" + "9" * 1001, "0" * 1000, "\u0661", "\u00b2")
-WRONG_POINTS = ("1", "1,", ",1", ",", "1,2,3", "1;2", "1, 2", "(1,2)", "1/1,0", "2/4,0", "0/2,0", "1/0,0", "1/-2,0", "1/02,0", "1/,0", "/2,0",
-    "1/2/3,0", "0,-0", "0,1/1", "-2/4,0", "1//2,0", *[f"{word},0" for word in WRONG_INTEGERS], *[f"0,{word}" for word in WRONG_INTEGERS],
+WRONG_POINTS = ("1", "1,", ",1", ",", "1,2,3", "1;2", "1, 2", "(1,2)", "1/1,0", "2/4,0", "0/2,0", "1/0,0", "1/-2,0",
+    "1/02,0", "1/,0", "/2,0",
+    "1/2/3,0", "0,-0", "0,1/1", "-2/4,0", "1//2,0", *[f"{word},0" for word in WRONG_INTEGERS],
+    *[f"0,{word}" for word in WRONG_INTEGERS],
     *[f"1/{word},0" for word in WRONG_INTEGERS])
 POINT = re.compile(r"(0|-?[1-9][0-9]*)(/([1-9][0-9]*))?,(0|-?[1-9][0-9]*)(/([1-9][0-9]*))?$")
 
@@ -39,13 +42,15 @@ def is_point_word(word):
 
 def is_shape_told(words):
     """Whether words tell a shape, by one pattern for signs and points."""
-    signs = "".join("p" if is_point_word(word) else word if word in ("{", "}", "[", "]", "<", ">", "/") else "?" for word in words)
+    signs = "".join("p" if is_point_word(word) else word if word in ("{", "}", "[", "]", "<", ">",
+        "/") else "?" for word in words)
     return re.fullmatch(r"\{(p|<pp>|\[ppp+(/ppp+)*\])*\}", signs) is not None
 
 
 def index_told(words):
     """The index that a ParseError for words keeps: what can follow makes a shape of a right beginning."""
-    endings = [(), ("}",), (">", "}"), ("0,0", ">", "}"), ("0,0",) * 2 + (">", "}"), ("]", "}"), ("0,0", "]", "}"), ("0,0",) * 2 + ("]", "}"),
+    endings = [(), ("}",), (">", "}"), ("0,0", ">", "}"), ("0,0",) * 2 + (">", "}"), ("]", "}"), ("0,0", "]", "}"),
+        ("0,0",) * 2 + ("]", "}"),
         ("0,0",) * 3 + ("]", "}"), ("{", "}")]
     for index in range(len(words)):
         if not any(is_shape_told([*words[:index + 1], *ending]) for ending in endings):
@@ -61,7 +66,8 @@ class ShapeTest(unittest.TestCase):
     def test_written(self):
         for shape, string in (
             (EMPTY, "{ }"), (WELL, "{ 2,2 }"), (dots((1, 1, 2), (-1, 0, 3), (0, 0)), "{ -1/3,0 0,0 1/2,1/2 }"),
-            (SQUARE, "{ [ 0,0 4,0 4,4 0,4 ] }"), (FRAME, "{ [ 0,0 4,0 4,4 0,4 / 1,1 1,3 3,3 3,1 ] }"), (ROAD, "{ < -1,2 5,2 > }"),
+            (SQUARE, "{ [ 0,0 4,0 4,4 0,4 ] }"), (FRAME, "{ [ 0,0 4,0 4,4 0,4 / 1,1 1,3 3,3 3,1 ] }"),
+            (ROAD, "{ < -1,2 5,2 > }"),
             (dots((3, 4, 6)), "{ 1/2,2/3 }"), (dots((-6, 1, 4)), "{ -3/2,1/4 }"), (dots((0, 1, 9)), "{ 0,1/9 }"),
             (joint(SQUARE, line((9, 9), (7, 9)), dots((-5, 0), (6, 1, 4)), area((8, 0), (9, 0), (9, 3, 2))),
                 "{ [ 0,0 4,0 4,4 0,4 ] [ 8,0 9,0 9/2,3/2 ] < 7,9 9,9 > -5,0 }"),
@@ -91,9 +97,11 @@ class ShapeTest(unittest.TestCase):
 
     def test_told(self):
         for string, shape in (
-            ("{ 2,2 [ 0,0 4,0 4,4 0,4 / 1,1 3,1 3,3 1,3 ] < 2,2 2,2 > }", joint(FRAME, WELL)), ("{ < 2,2 2,2 > }", WELL),
+            ("{ 2,2 [ 0,0 4,0 4,4 0,4 / 1,1 3,1 3,3 1,3 ] < 2,2 2,2 > }", joint(FRAME, WELL)),
+            ("{ < 2,2 2,2 > }", WELL),
             ("{ 2,2 2,2 < 2,2 2,2 > }", WELL), ("{ [ 0,0 0,0 0,0 ] }", EMPTY), ("{ [ 0,0 1,0 2,0 ] }", EMPTY),
-            ("{ [ 4,4 4,0 0,0 0,4 ] }", SQUARE), ("{ [ 0,0 0,4 4,4 2,4 4,0 2,0 ] }", area((0, 0), (0, 4), (4, 4), (2, 4), (4, 0), (2, 0))),
+            ("{ [ 4,4 4,0 0,0 0,4 ] }", SQUARE), ("{ [ 0,0 0,4 4,4 2,4 4,0 2,0 ] }",
+            area((0, 0), (0, 4), (4, 4), (2, 4), (4, 0), (2, 0))),
             ("{ < 5,2 2,2 > < -1,2 2,2 > }", ROAD), ("{ [ 0,0 4,0 4,4 0,4 / 0,0 4,0 4,4 0,4 ] }", EMPTY),
             ("{ [ 0,0 4,4 4,0 0,4 ] }", filled(((0, 0), (4, 4), (4, 0), (0, 4)))),
             ("{ [ 0,0 4,0 4,4 0,4 ] [ 1,1 3,1 3,3 1,3 ] }", SQUARE), ("{ 1/2,-3/4 }", dots((2, -3, 4))),
@@ -107,7 +115,8 @@ class ShapeTest(unittest.TestCase):
         string = f"{{ 1/{LONG},1/{LONG - 1} }}"
         self.assertEqual(write_shape(read_shape(string)), string)
         self.assertGreater(read_shape(string).points[0][2], LONGER)
-        for point in ((LONGER, 0), (0, -LONGER), (1, 0, LONGER), (0, 1, LONGER), (LONGER, 1, 3), (HUGE, LONGER * LONGER, HUGE)):
+        for point in ((LONGER, 0), (0, -LONGER), (1, 0, LONGER), (0, 1, LONGER), (LONGER, 1, 3),
+            (HUGE, LONGER * LONGER, HUGE)):
             for shape in (dots(point), line((0, 0), point), area((0, 0), (1, 7), point)):
                 error = raised(write_shape, shape)
                 self.assertIsInstance(error, TooMany)
@@ -133,13 +142,20 @@ class ShapeTest(unittest.TestCase):
 
     def test_wrong_words(self):
         for string, index in (
-            ("", 0), (" ", 0), ("}", 0), ("0,0", 0), ("x", 0), ("{}", 0), (" { }", 0), ("{", 1), ("{ {", 1), ("{ ", 1), ("{  }", 1), ("{ } ", 2),
-            ("{ } }", 2), ("{ } {", 2), ("{ } 0,0", 2), ("{ ]", 1), ("{ >", 1), ("{ /", 1), ("{ [", 2), ("{ [ ]", 2), ("{ [ /", 2), ("{ [ }", 2),
-            ("{ [ 0,0 1,0 ] }", 4), ("{ [ 0,0 1,0 / 0,1 ] }", 4), ("{ [ 0,0 1,0 0,1", 5), ("{ [ 0,0 1,0 0,1 ]", 6), ("{ [ 0,0 1,0 0,1 /", 6),
-            ("{ [ 0,0 1,0 0,1 / ] }", 6), ("{ [ 0,0 1,0 0,1 / 0,0 1,0 ] }", 8), ("{ [ 0,0 1,0 0,1 }", 5), ("{ [ 0,0 1,0 0,1 [", 5),
-            ("{ [ 0,0 1,0 0,1 <", 5), ("{ [ 0,0 1,0 0,1 / /", 6), ("{ <", 2), ("{ < >", 2), ("{ < 0,0 >", 3), ("{ < 0,0 1,1", 4), ("{ < 0,0 1,1 2,2 >", 4),
-            ("{ < 0,0 1,1 ]", 4), ("{ < 0,0 1,1 > >", 5), ("{ < 0,0 1,1 >", 5), ("{ < 0,0 / 1,1 >", 3), ("{ 0,0 / 1,1 }", 2), ("{ 0,0", 2),
-            ("{ 0,0 1,1 2 }", 3), ("{\n}", 0), ("{ }\n", 1), ("{ 0,0\n}", 1), ("{ 0,0  1,1 }", 2), ("{ \t }", 1), ("{ [0,0 1,0 0,1] }", 1),
+            ("", 0), (" ", 0), ("}", 0), ("0,0", 0), ("x", 0), ("{}", 0), (" { }", 0), ("{", 1), ("{ {", 1), ("{ ", 1),
+            ("{  }", 1), ("{ } ", 2),
+            ("{ } }", 2), ("{ } {", 2), ("{ } 0,0", 2), ("{ ]", 1), ("{ >", 1), ("{ /", 1), ("{ [", 2), ("{ [ ]", 2),
+            ("{ [ /", 2), ("{ [ }", 2),
+            ("{ [ 0,0 1,0 ] }", 4), ("{ [ 0,0 1,0 / 0,1 ] }", 4), ("{ [ 0,0 1,0 0,1", 5), ("{ [ 0,0 1,0 0,1 ]", 6),
+            ("{ [ 0,0 1,0 0,1 /", 6),
+            ("{ [ 0,0 1,0 0,1 / ] }", 6), ("{ [ 0,0 1,0 0,1 / 0,0 1,0 ] }", 8), ("{ [ 0,0 1,0 0,1 }", 5),
+            ("{ [ 0,0 1,0 0,1 [", 5),
+            ("{ [ 0,0 1,0 0,1 <", 5), ("{ [ 0,0 1,0 0,1 / /", 6), ("{ <", 2), ("{ < >", 2), ("{ < 0,0 >", 3),
+            ("{ < 0,0 1,1", 4), ("{ < 0,0 1,1 2,2 >", 4),
+            ("{ < 0,0 1,1 ]", 4), ("{ < 0,0 1,1 > >", 5), ("{ < 0,0 1,1 >", 5), ("{ < 0,0 / 1,1 >", 3),
+            ("{ 0,0 / 1,1 }", 2), ("{ 0,0", 2),
+            ("{ 0,0 1,1 2 }", 3), ("{\n}", 0), ("{ }\n", 1), ("{ 0,0\n}", 1), ("{ 0,0  1,1 }", 2), ("{ \t }", 1),
+            ("{ [0,0 1,0 0,1] }", 1),
             ("{ ( }", 1), ("{ = }", 1),
         ):
             words = string.split(" ")
@@ -191,7 +207,8 @@ for told in ({"name": "a b\\c", "worth": -5}, {"spot": FRAME, "name": ""}, {}, {
     TABLE = TABLE.put(told)
 TABLE = TABLE.without(3).put({"name": " ", "spot": dots((1, 1, 2)), "worth": 7})
 LINES = ["next 6", "column name text", "column spot shape", "column worth number", "row 1 name =a\\_b\\\\c worth -5",
-    "row 2 name = spot { [ 0,0 4,0 4,4 0,4 / 1,1 1,3 3,3 3,1 ] }", "row 4 spot { } worth 0", "row 5 name =\\_ spot { 1/2,1/2 } worth 7"]
+    "row 2 name = spot { [ 0,0 4,0 4,4 0,4 / 1,1 1,3 3,3 3,1 ] }", "row 4 spot { } worth 0",
+    "row 5 name =\\_ spot { 1/2,1/2 } worth 7"]
 
 
 def is_table_told(lines):
@@ -205,7 +222,8 @@ def is_table_told(lines):
         kinds[words[1]] = words[2]
     if not 1 <= len(kinds) <= 8 or list(kinds) != sorted(words[1] for words in names):
         return False
-    patterns = {"number": r"(?P<told>0|-?[1-9][0-9]{0,999})", "text": r"(?P<told>=([!-\[\]-~]|\\_|\\\\)*)", "shape": r"(?P<told>\{ [^}{]*\})"}
+    patterns = {"number": r"(?P<told>0|-?[1-9][0-9]{0,999})", "text": r"(?P<told>=([!-\[\]-~]|\\_|\\\\)*)",
+        "shape": r"(?P<told>\{ [^}{]*\})"}
     for line_of in lines[1 + len(names):]:
         found = re.fullmatch(r"row ([1-9][0-9]{0,999})(.*)", line_of)
         if not found:
@@ -245,7 +263,8 @@ class TableTest(unittest.TestCase):
 
     def test_signs(self):
         table = Table({"name": "text"})
-        for text in (EVERY_SIGN[:40], EVERY_SIGN[40:80], EVERY_SIGN[80:], "\\" * 40, " " * 40, "\\_", "_", "\\ \\", "=", "", "{ }", "name"):
+        for text in (EVERY_SIGN[:40], EVERY_SIGN[40:80], EVERY_SIGN[80:], "\\" * 40, " " * 40, "\\_", "_", "\\ \\",
+            "=", "", "{ }", "name"):
             table = table.put({"name": text})
         self.assertEqual(read_table(write_table(table)), table)
         self.assertEqual(write_table(table).split("\n")[7:9], ["row 6 name =\\\\_", "row 7 name =_"])
@@ -265,16 +284,20 @@ class TableTest(unittest.TestCase):
     def test_told_shapes(self):
         lines = ["next 2", "column spot shape", "row 1 spot { 2,2 < 2,2 2,2 > [ 4,4 4,0 0,0 0,4 ] }"]
         self.assertEqual(read_table("\n".join(lines)).row(1)["spot"], SQUARE)
-        for words, is_right in (("{ " + "0,0 " * 200 + "}", True), ("{ " + "0,0 " * 201 + "}", False), (write_shape(SIXTY), True),
-                (write_shape(SIXTY)[:-1] + "0,1 }", False), ("{ [ 0,0 1,0 ] }", False), ("{ 0,0", False), ("0,0 }", False), ("{ } }", False),
+        for words, is_right in (("{ " + "0,0 " * 200 + "}", True), ("{ " + "0,0 " * 201 + "}", False),
+            (write_shape(SIXTY), True),
+                (write_shape(SIXTY)[:-1] + "0,1 }", False), ("{ [ 0,0 1,0 ] }", False), ("{ 0,0", False),
+                ("0,0 }", False), ("{ } }", False),
                 ("", False), ("{ }", True), ("{ 2/4,1 }", False)):
             error = raised(read_table, "\n".join([*lines[:2], "row 1 spot " + words]))
             self.assertEqual(error and error.index, None if is_right else 2, words)
 
     def test_great_integers(self):
-        table = Table({"spot": "shape", "worth": "number"}).put({"worth": LONG, "spot": dots((LONG, 1))}).put({"worth": -LONG})
+        table = Table({"spot": "shape", "worth": "number"}).put({"worth": LONG,
+            "spot": dots((LONG, 1))}).put({"worth": -LONG})
         self.assertEqual(read_table(write_table(table)), table)
-        for values in ({"worth": LONGER}, {"worth": -LONGER}, {"spot": dots((LONGER, 0))}, {"spot": dots((1, 1, LONGER))}):
+        for values in ({"worth": LONGER}, {"worth": -LONGER}, {"spot": dots((LONGER, 0))},
+            {"spot": dots((1, 1, LONGER))}):
             error = raised(write_table, table.put(values))
             self.assertIsInstance(error, TooMany)
             self.assertEqual(error.limit, 1000)
@@ -289,21 +312,36 @@ class TableTest(unittest.TestCase):
     def test_wrong_lines(self):
         head = ["next 4", "column a number", "column b text", "column c shape"]
         for lines, index in (
-            ([""], 0), (["next"], 0), (["next "], 0), (["next 0"], 0), (["next -1"], 0), (["next 01"], 0), (["next 1 "], 0), (["next 1 1"], 0), (["Next 1"], 0),
-            (["column a text"], 0), (["row 1"], 0), ([" next 1"], 0), (["next 1"], 1), (["next 1", ""], 1), (["next 1", "next 1"], 1),
-            (["next 2", "row 1"], 1), (["next 1", "column"], 1), (["next 1", "column a"], 1), (["next 1", "column a number "], 1),
-            (["next 1", "column a bool"], 1), (["next 1", "column A text"], 1), (["next 1", "column  text"], 1), (["next 1", "column text"], 1),
-            (["next 1", "column a text text"], 1), (["next 1", f"column {'a' * 21} text"], 1), (["next 1", "column b text", "column a text"], 2),
-            (["next 1", "column a text", "column a number"], 2), (["next 1", "column a text", "row 1"], 2), ([*head, "column d text", ""], 5),
-            ([*head, "row 1", "column d text"], 5), ([*head, "row 0"], 4), ([*head, "row 4"], 4), ([*head, "row 3", "row 2"], 5), ([*head, "row 2", "row 2"], 5),
-            ([*head, "row"], 4), ([*head, "row "], 4), ([*head, "row a"], 4), ([*head, "row 01"], 4), ([*head, "row 1 "], 4), ([*head, "row 1 d 5"], 4),
-            ([*head, "row 1 a"], 4), ([*head, "row 1 a =x"], 4), ([*head, "row 1 a 5 6"], 4), ([*head, "row 1 a 5 a 5"], 4), ([*head, "row 1 b =x a 5"], 4),
-            ([*head, "row 1 b x"], 4), ([*head, "row 1 b 5"], 4), ([*head, "row 1 b =x y"], 4), ([*head, "row 1 b =\\"], 4), ([*head, "row 1 b =\\x"], 4),
-            ([*head, "row 1 b =x\t"], 4), ([*head, "row 1 b ==x", "x"], 5), ([*head, "row 1 c =x"], 4), ([*head, "row 1 c {"], 4), ([*head, "row 1 c {}"], 4),
-            ([*head, "row 1 c { } c { }"], 4), ([*head, "row 1 c { } }"], 4), ([*head, "row 1 c 0,0"], 4), ([*head, "row 1 c { a 5 }"], 4),
-            ([*head, f"row 1 b ={'x' * 41}"], 4), ([*head, f"row 1 b ={'x' * 39}{chr(92) * 4}"], 4), ([*head, "row 1", "", "row 2"], 5), ([*head, "row 1  a 5"], 4),
-            ([*head, "row 1 a  5"], 4), ([*head, "row 1 a 05"], 4), ([*head, "row 1 a -0"], 4), ([*head, "row 1 a 1/2"], 4), ([*head, "row 1 c"], 4),
-            ([*head, "row 1 a 5 b =x c { } "], 4), ([*head, "row 1 None"], 4), ([*head, "row -1"], 4), ([*head, "row 1\r"], 4),
+            ([""], 0), (["next"], 0), (["next "], 0), (["next 0"], 0), (["next -1"], 0), (["next 01"], 0),
+            (["next 1 "], 0), (["next 1 1"], 0), (["Next 1"], 0),
+            (["column a text"], 0), (["row 1"], 0), ([" next 1"], 0), (["next 1"], 1), (["next 1", ""], 1),
+            (["next 1", "next 1"], 1),
+            (["next 2", "row 1"], 1), (["next 1", "column"], 1), (["next 1", "column a"], 1),
+            (["next 1", "column a number "], 1),
+            (["next 1", "column a bool"], 1), (["next 1", "column A text"], 1), (["next 1", "column  text"], 1),
+            (["next 1", "column text"], 1),
+            (["next 1", "column a text text"], 1), (["next 1", f"column {'a' * 21} text"], 1),
+            (["next 1", "column b text", "column a text"], 2),
+            (["next 1", "column a text", "column a number"], 2), (["next 1", "column a text", "row 1"], 2),
+            ([*head, "column d text", ""], 5),
+            ([*head, "row 1", "column d text"], 5), ([*head, "row 0"], 4), ([*head, "row 4"], 4),
+            ([*head, "row 3", "row 2"], 5), ([*head, "row 2", "row 2"], 5),
+            ([*head, "row"], 4), ([*head, "row "], 4), ([*head, "row a"], 4), ([*head, "row 01"], 4),
+            ([*head, "row 1 "], 4), ([*head, "row 1 d 5"], 4),
+            ([*head, "row 1 a"], 4), ([*head, "row 1 a =x"], 4), ([*head, "row 1 a 5 6"], 4),
+            ([*head, "row 1 a 5 a 5"], 4), ([*head, "row 1 b =x a 5"], 4),
+            ([*head, "row 1 b x"], 4), ([*head, "row 1 b 5"], 4), ([*head, "row 1 b =x y"], 4),
+            ([*head, "row 1 b =\\"], 4), ([*head, "row 1 b =\\x"], 4),
+            ([*head, "row 1 b =x\t"], 4), ([*head, "row 1 b ==x", "x"], 5), ([*head, "row 1 c =x"], 4),
+            ([*head, "row 1 c {"], 4), ([*head, "row 1 c {}"], 4),
+            ([*head, "row 1 c { } c { }"], 4), ([*head, "row 1 c { } }"], 4), ([*head, "row 1 c 0,0"], 4),
+            ([*head, "row 1 c { a 5 }"], 4),
+            ([*head, f"row 1 b ={'x' * 41}"], 4), ([*head, f"row 1 b ={'x' * 39}{chr(92) * 4}"], 4),
+            ([*head, "row 1", "", "row 2"], 5), ([*head, "row 1  a 5"], 4),
+            ([*head, "row 1 a  5"], 4), ([*head, "row 1 a 05"], 4), ([*head, "row 1 a -0"], 4),
+            ([*head, "row 1 a 1/2"], 4), ([*head, "row 1 c"], 4),
+            ([*head, "row 1 a 5 b =x c { } "], 4), ([*head, "row 1 None"], 4), ([*head, "row -1"], 4),
+            ([*head, "row 1\r"], 4),
         ):
             self.check(lines, index)
         many = ["next 99", *[f"column {'a' * (k + 1)} text" for k in range(8)]]
@@ -346,7 +384,8 @@ class TableTest(unittest.TestCase):
                 elif lines:
                     pieces = lines[place].split(" ") if change == "word" else list(lines[place])
                     at = rows.randint(0, len(pieces))
-                    more = rows.choice([[], ["5"], ["=x"], [""], ["name"], ["{"], ["}"], ["\\"], ["row"], ["-"], ["0,0"]])
+                    more = rows.choice([[], ["5"], ["=x"], [""], ["name"], ["{"], ["}"], ["\\"], ["row"], ["-"],
+                        ["0,0"]])
                     pieces = pieces[:at] + more + pieces[at + rows.randint(0, 1):]
                     lines[place] = (" " if change == "word" else "").join(pieces)
             lines = lines or [""]

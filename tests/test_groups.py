@@ -32,10 +32,13 @@ class GroupsTest(unittest.TestCase):
             ((), None, ((1, 2, 3, 4, 5, 6, 7),)), ((), (), ()), ((), (4, 2, 2), ((2, 4),)),
             (("name",), None, ((1, 3, 5), (2, 7), (4,), (6,))), (("worth",), None, ((1, 4, 5), (2, 7), (3,), (6,))),
             # equal sets of points, told in several ways
-            (("spot",), None, ((1, 7), (2,), (3, 6), (4,), (5,))), (("spot", "name"), None, ((1,), (2,), (3,), (4,), (5,), (6,), (7,))),
-            (("worth", "name"), None, ((1, 5), (2, 7), (3,), (4,), (6,))), (("name", "worth"), None, ((1, 5), (2, 7), (3,), (4,), (6,))),
+            (("spot",), None, ((1, 7), (2,), (3, 6), (4,), (5,))),
+            (("spot", "name"), None, ((1,), (2,), (3,), (4,), (5,), (6,), (7,))),
+            (("worth", "name"), None, ((1, 5), (2, 7), (3,), (4,), (6,))),
+            (("name", "worth"), None, ((1, 5), (2, 7), (3,), (4,), (6,))),
             (("name", "name", "worth", "name"), None, ((1, 5), (2, 7), (3,), (4,), (6,))),
-            (("name",), (7, 5, 3, 2, 5), ((2, 7), (3, 5))), (("worth",), (6,), ((6,),)), (("worth",), (7, 2), ((2, 7),)),
+            (("name",), (7, 5, 3, 2, 5), ((2, 7), (3, 5))), (("worth",), (6,), ((6,),)),
+            (("worth",), (7, 2), ((2, 7),)),
         ):
             self.assertEqual(groups(TABLE, columns, numbers), expected)
         self.assertEqual(groups(Table(KINDS_OF), ()), ())
@@ -47,7 +50,8 @@ class GroupsTest(unittest.TestCase):
         for _ in range(40):
             table = drawn_table(rows, rows.randint(0, 15))
             columns = tuple(rows.choice(table.columns) for _ in range(rows.randint(0, 3)))
-            numbers = rows.choice([None, tuple(rows.choices(table.numbers, k=rows.randint(0, 9)) if len(table) else ())])
+            numbers = rows.choice([None, tuple(rows.choices(table.numbers,
+                k=rows.randint(0, 9)) if len(table) else ())])
             found = []
             for number in sorted(set(table.numbers if numbers is None else numbers)):
                 row = table.row(number)
@@ -82,15 +86,19 @@ class SummedTest(unittest.TestCase):
         every = (7, 6, 5, 4, 3, 2, 1, 1, 5, 5)
         for what, column, numbers, expected in (
             ("count", None, every, 7), ("count", "spot", (), 0), ("count", "no", (2, 2), 1), ("count", 5, (3, 1, 3), 2),
-            ("known", "worth", every, 5), ("known", "name", every, 6), ("known", "spot", every, 6), ("known", "spot", (), 0),
-            ("known", "spot", (4,), 0), ("sum", "worth", every, 11), ("sum", "worth", (5, 1, 5), 10), ("sum", "worth", (2,), None),
+            ("known", "worth", every, 5), ("known", "name", every, 6), ("known", "spot", every, 6),
+            ("known", "spot", (), 0),
+            ("known", "spot", (4,), 0), ("sum", "worth", every, 11), ("sum", "worth", (5, 1, 5), 10),
+            ("sum", "worth", (2,), None),
             ("sum", "worth", (), None), ("least", "worth", every, -7), ("greatest", "worth", every, 5),
             ("least", "name", every, ""), ("greatest", "name", every, "b"), ("least", "name", (6,), None),
             ("greatest", "worth", (), None), ("areas", "spot", every, (32, 1)), ("areas", "spot", (1, 1, 1), (16, 1)),
             ("areas", "spot", (4,), (0, 1)), ("areas", "spot", (), (0, 1)), ("areas", "spot", (2, 3), (0, 1)),
             ("joint", "spot", every, joint(SQUARE, ROAD)), ("joint", "spot", (4,), EMPTY), ("joint", "spot", (), EMPTY),
-            ("hull", "spot", every, hull(joint(SQUARE, ROAD))), ("hull", "spot", (), EMPTY), ("hull", "spot", (2, 4), WELL),
-            ("common", "spot", (1, 3, 6), line((0, 2), (4, 2))), ("common", "spot", every, EMPTY), ("common", "spot", (), None),
+            ("hull", "spot", every, hull(joint(SQUARE, ROAD))), ("hull", "spot", (), EMPTY),
+            ("hull", "spot", (2, 4), WELL),
+            ("common", "spot", (1, 3, 6), line((0, 2), (4, 2))), ("common", "spot", every, EMPTY),
+            ("common", "spot", (), None),
             ("common", "spot", (4,), None), ("common", "spot", (2, 2, 4, 1), WELL), ("common", "spot", (1,), SQUARE),
         ):
             self.assertEqual(summed(TABLE, numbers, what, column), expected, (what, column, numbers))
@@ -141,7 +149,8 @@ class SummedTest(unittest.TestCase):
             self.assertIs(error.value, number)
         for what in (None, True, "", "Sum", "mean", 5, ("sum",), ["sum"], {}, SQUARE):
             self.assertIsInstance(raised(summed, TABLE, (1,), what, "no"), InvalidOperation)
-        words = {"known": (), "sum": ("name", "spot"), "least": ("spot",), "greatest": ("spot",), "areas": ("name", "worth"),
+        words = {"known": (), "sum": ("name", "spot"), "least": ("spot",), "greatest": ("spot",),
+            "areas": ("name", "worth"),
             "joint": ("name", "worth"), "hull": ("name", "worth"), "common": ("name", "worth")}
         for what, columns in words.items():
             for column in NO_COLUMNS:
@@ -155,11 +164,14 @@ class SummedTest(unittest.TestCase):
 class LinkedTest(unittest.TestCase):
     def test_linked(self):
         row = Table({"spot": "shape"})
-        for shape in (dots((0, 0)), dots((9, 9)), None, dots((3, 4)), EMPTY, dots((6, 8)), dots((6, 8)), line((9, 0), (20, 0))):
+        for shape in (dots((0, 0)), dots((9, 9)), None, dots((3, 4)), EMPTY, dots((6, 8)), dots((6, 8)),
+            line((9, 0), (20, 0))):
             row = row.put({"spot": shape})
         for square, expected in (
-            (0, ((1,), (2,), (4,), (6, 7), (8,))), ((0, 1), ((1,), (2,), (4,), (6, 7), (8,))), (9, ((1,), (2,), (4,), (6, 7), (8,))),
-            (10, ((1,), (2, 6, 7), (4,), (8,))), ((99, 10), ((1,), (2,), (4,), (6, 7), (8,))), (24, ((1,), (2, 6, 7), (4,), (8,))),
+            (0, ((1,), (2,), (4,), (6, 7), (8,))), ((0, 1), ((1,), (2,), (4,), (6, 7), (8,))),
+            (9, ((1,), (2,), (4,), (6, 7), (8,))),
+            (10, ((1,), (2, 6, 7), (4,), (8,))), ((99, 10), ((1,), (2,), (4,), (6, 7), (8,))),
+            (24, ((1,), (2, 6, 7), (4,), (8,))),
             (25, ((1, 2, 4, 6, 7), (8,))), (51, ((1, 2, 4, 6, 7), (8,))), (52, ((1, 2, 4, 6, 7, 8),)),
             (HUGE, ((1, 2, 4, 6, 7, 8),)), ((HUGE, 2), ((1, 2, 4, 6, 7, 8),)),
         ):
@@ -202,13 +214,15 @@ class LinkedTest(unittest.TestCase):
             self.assertIsInstance(error, UnknownName)
             self.assertIs(error.name, column)
         for column in ("spot", "worth"):
-            for square in (None, True, False, -1, (1, -1), (2, 2), (-1, 2), (1, 0), "1", [1, 2], (1,), (1, 2, 3), {}, SQUARE):
+            for square in (None, True, False, -1, (1, -1), (2, 2), (-1, 2), (1, 0), "1", [1, 2], (1,), (1, 2, 3), {},
+                SQUARE):
                 error = raised(linked, TABLE, column, square)
                 self.assertIsInstance(error, InvalidNumber)
                 self.assertIs(error.value, square)
         for column in ("worth", "name"):
             self.assertIsInstance(raised(linked, TABLE, column, 1), InvalidOperation)
-        self.assertEqual(linked(Table({"spot": "shape"}).put({"spot": SIXTY}).put({"spot": FRAME}), "spot", 0), ((1, 2),))
+        self.assertEqual(linked(Table({"spot": "shape"}).put({"spot": SIXTY}).put({"spot": FRAME}), "spot", 0),
+            ((1, 2),))
         self.assertGreater(len(POSTS), 60)
 
 

@@ -18,22 +18,29 @@ from wherebase.tree.boxes import box_of
 from wherebase.tree.trees import Tree
 
 LOTS = Table({"name": "text", "spot": "shape", "worth": "number"})
-for told in ({"name": "a", "spot": SQUARE, "worth": 5}, {"name": "b", "spot": WELL}, {"spot": ROAD, "worth": 3, "name": "a"},
+for told in ({"name": "a", "spot": SQUARE, "worth": 5}, {"name": "b", "spot": WELL},
+    {"spot": ROAD, "worth": 3, "name": "a"},
         {"worth": 5, "name": ""}, {"spot": EMPTY}):
     LOTS = LOTS.put(told)
 WAYS = Table({"way": "shape", "label": "text", "price": "number"})
-for told in ({"way": FRAME, "label": "a"}, {"way": line((6, 0), (6, 4)), "price": 5}, {"label": "b", "price": 3}, {"way": EMPTY}):
+for told in ({"way": FRAME, "label": "a"}, {"way": line((6, 0), (6, 4)), "price": 5}, {"label": "b", "price": 3},
+    {"way": EMPTY}):
     WAYS = WAYS.put(told)
 MEETS, SAME_TEXT = ("meets", "spot", "way"), ("same", "name", "label")
 PLANS = (("loops",), ("tree",), ("trees",))
 NO_JOINS = (
-    None, True, 5, "meets", (), [], {}, ("meets",), ("meets", "spot"), ["meets", "spot", "way"], ("meets", "way", "spot"),
+    None, True, 5, "meets", (), [], {}, ("meets",), ("meets", "spot"), ["meets", "spot", "way"],
+        ("meets", "way", "spot"),
     ("meets", "spot", "way", 1), ("Meets", "spot", "way"), ("beside", "spot", "way"), ("meets", "name", "label"),
-    ("meets", "spot", "label"), ("meets", "worth", "way"), ("meets", "spot", "no"), ("meets", "no", "way"), ("less", "worth", "price"),
-    ("near", "spot", "way"), ("near", "spot", "way", -1), ("near", "spot", "way", (1, -1)), ("near", "spot", "way", (2, 2)),
-    ("near", "spot", "way", (-1, 2)), ("near", "spot", "way", True), ("near", "spot", "way", None), ("near", "spot", "way", 1, 1),
+    ("meets", "spot", "label"), ("meets", "worth", "way"), ("meets", "spot", "no"), ("meets", "no", "way"),
+    ("less", "worth", "price"),
+    ("near", "spot", "way"), ("near", "spot", "way", -1), ("near", "spot", "way", (1, -1)),
+    ("near", "spot", "way", (2, 2)),
+    ("near", "spot", "way", (-1, 2)), ("near", "spot", "way", True), ("near", "spot", "way", None),
+    ("near", "spot", "way", 1, 1),
     ("near", "worth", "price", 1), ("same", "spot", "label"), ("same", "worth", "label"), ("same", "name", "price"),
-    ("same", "name", "label", 1), ("same", "no", "no"), ("same", "name"), ("missing", "name"), ("same", ("column", "name"), "label"),
+    ("same", "name", "label", 1), ("same", "no", "no"), ("same", "name"), ("missing", "name"),
+    ("same", ("column", "name"), "label"),
     ("same", ["name"], "label"), ("same", "name", ["label"]), (["same"], "name", "label"), (SQUARE, SQUARE, SQUARE),
     ("same", None, None), ("and", "spot", "way"), ("same", 1, 1), ("not", MEETS),
 )
@@ -71,14 +78,16 @@ def run_told(one_table, other_table, join, plan, one_tree, other_tree):
     every = [(one, other) for one in one_table for other in other_table]
     if plan == ("loops",):
         return every, 10 * len(every)
-    decided = [(one, other) for one, other in every if not one_table.row(one)[join[1]] or not other_table.row(other)[join[2]]]
+    decided = [(one, other) for one,
+        other in every if not one_table.row(one)[join[1]] or not other_table.row(other)[join[2]]]
     more, cost = reach_of(join), 0
     if plan == ("tree",):
         for number in one_table:
             shape = one_table.row(number)[join[1]]
             if shape:
                 left, bottom, right, top = box_of(shape)
-                found, looked = searched_plainly(other_tree.form, (left - more, bottom - more, right + more, top + more))
+                found, looked = searched_plainly(other_tree.form,
+                    (left - more, bottom - more, right + more, top + more))
                 decided += [(number, other) for other in found]
                 cost += looked
     else:
@@ -108,7 +117,8 @@ class JoinsTest(unittest.TestCase):
             (("same", "spot", "way"), ((5, 4),)), (("equal", "spot", "way"), ((5, 4),)),
             (("within", "spot", "way"), ((5, 1), (5, 2), (5, 4))),
             (("holds", "spot", "way"), ((1, 1), (1, 4), (2, 4), (3, 4), (5, 4))),
-            (("apart", "spot", "way"), ((1, 2), (1, 4), (2, 1), (2, 2), (2, 4), (3, 2), (3, 4), (5, 1), (5, 2), (5, 4))),
+            (("apart", "spot", "way"), ((1, 2), (1, 4), (2, 1), (2, 2), (2, 4), (3, 2), (3, 4), (5, 1), (5, 2),
+            (5, 4))),
         ):
             self.assertEqual(pairs(LOTS, WAYS, join), expected, join)
         self.assertEqual(pairs(LOTS, LOTS, ("meets", "spot", "spot")),
@@ -116,12 +126,14 @@ class JoinsTest(unittest.TestCase):
         self.assertEqual(pairs(LOTS, LOTS, ("same", "spot", "spot")), ((1, 1), (2, 2), (3, 3), (5, 5)))
         self.assertEqual(pairs(LOTS, LOTS, ("same", "name", "name")), ((1, 1), (1, 3), (2, 2), (3, 1), (3, 3), (4, 4)))
         self.assertEqual(pairs(LOTS, Table({"way": "shape"}), MEETS), ())
-        again = Table({"way": "shape"}).put({"way": line((0, 0), (4, 0))}).put({"way": area((4, 4), (0, 4), (0, 0), (4, 0))})
+        again = Table({"way": "shape"}).put({"way": line((0, 0), (4, 0))}).put({"way": area((4, 4), (0, 4), (0, 0),
+            (4, 0))})
         self.assertEqual(pairs(LOTS, again, ("same", "spot", "way")), ((1, 2),))
 
     def test_kept_pairs(self):
         self.assertEqual(kept_pairs(LOTS, WAYS, MEETS), ((1, 1), (2, None), (3, 1), (4, None), (5, None)))
-        self.assertEqual(kept_pairs(LOTS, WAYS, ("same", "worth", "price")), ((1, 2), (2, None), (3, 3), (4, 2), (5, None)))
+        self.assertEqual(kept_pairs(LOTS, WAYS, ("same", "worth", "price")),
+            ((1, 2), (2, None), (3, 3), (4, 2), (5, None)))
         self.assertEqual(kept_pairs(LOTS, WAYS.without(1, 2, 3, 4), MEETS), tuple((number, None) for number in LOTS))
         self.assertEqual(kept_pairs(LOTS.without(1, 2, 3, 4, 5), WAYS, MEETS), ())
         self.assertEqual(kept_pairs(LOTS, LOTS, ("same", "name", "name"))[:3], ((1, 1), (1, 3), (2, 2)))
@@ -166,7 +178,8 @@ class JoinsTest(unittest.TestCase):
             if word == "same" and rows.random() < 0.5:
                 columns = rows.choice([["worth", "cost"], ["name", "name"]])
             join = (word, *columns, *([rows.choice(SQUARES)] if word == "near" else []))
-            told = tuple((number, second) for number in one for second in other if is_true_told(one, other, join, number, second))
+            told = tuple((number, second) for number in one for second in other if is_true_told(one, other, join,
+                number, second))
             self.assertEqual(pairs(one, other, join), told)
             kept = [(number, second) for number in one
                 for second in [pair[1] for pair in told if pair[0] == number] or [None]]
@@ -193,7 +206,8 @@ class JoinsTest(unittest.TestCase):
         other = Table({"way": "shape"}).put({"way": dots((5, 2, 2))})
         # the square of the distance is 29 / 4, the box is (2, 1, 3, 1)
         trees = {"one_tree": tree_of(one, "way"), "other_tree": tree_of(other, "way")}
-        for square, expected, cost in ((7, (), 11), ((29, 4), ((1, 1),), 11), ((28, 5), (), 11), (4, (), 11), ((15, 4), (), 11), (1, (), 1)):
+        for square, expected, cost in ((7, (), 11), ((29, 4), ((1, 1),), 11), ((28, 5), (), 11), (4, (), 11),
+            ((15, 4), (), 11), (1, (), 1)):
             for plan in PLANS:
                 found = run_join(one, other, ("near", "way", "way", square), plan, **trees)
                 self.assertEqual(found, (expected, 10 if plan == ("loops",) else cost))
@@ -214,7 +228,8 @@ class WrongArgumentsTest(unittest.TestCase):
             self.assertIsInstance(raised(run_join, LOTS, WAYS, join, None, one_tree=5), InvalidOperation)
 
     def test_plans(self):
-        for plan in (None, True, "loops", [], (), ["loops"], ("Loops",), ("loops", "spot"), ("tree", "spot"), ("trees", 1), ("all",),
+        for plan in (None, True, "loops", [], (), ["loops"], ("Loops",), ("loops", "spot"), ("tree", "spot"),
+            ("trees", 1), ("all",),
                 {}, SQUARE, (("loops",),), (None,)):
             self.assertIsInstance(raised(run_join, LOTS, WAYS, MEETS, plan, one_tree=5, other_tree=5), InvalidPlan)
         for join in (SAME_TEXT, ("same", "worth", "price"), ("apart", "spot", "way")):
@@ -226,10 +241,13 @@ class WrongArgumentsTest(unittest.TestCase):
         for tree in (None, True, 5, "tree", (), {}, one.form, Tree(), other.without(1), other.put(3, (0, 0, 0, 0)),
                 other.moved(1, (0, 0, 4, 5)), one):
             for one_tree in (one, None, 5):
-                self.assertIsInstance(raised(run_join, LOTS, WAYS, MEETS, ("tree",), one_tree=one_tree, other_tree=tree), InvalidTree)
-            self.assertIsInstance(raised(run_join, LOTS, WAYS, MEETS, ("trees",), one_tree=one, other_tree=tree), InvalidTree)
+                self.assertIsInstance(raised(run_join, LOTS, WAYS, MEETS, ("tree",), one_tree=one_tree,
+                    other_tree=tree), InvalidTree)
+            self.assertIsInstance(raised(run_join, LOTS, WAYS, MEETS, ("trees",), one_tree=one, other_tree=tree),
+                InvalidTree)
             if tree is not one:
-                self.assertIsInstance(raised(run_join, LOTS, WAYS, MEETS, ("trees",), one_tree=tree, other_tree=other), InvalidTree)
+                self.assertIsInstance(raised(run_join, LOTS, WAYS, MEETS, ("trees",), one_tree=tree, other_tree=other),
+                    InvalidTree)
             # a tree that the plan does not use is not looked at
             self.assertEqual(run_join(LOTS, WAYS, MEETS, ("loops",), one_tree=tree, other_tree=tree)[1], 200)
             self.assertEqual(run_join(LOTS, WAYS, MEETS, ("tree",), one_tree=tree, other_tree=other)[1], 176)

@@ -8,7 +8,8 @@ from tests.helpers import EMPTY, FRAME, HUGE, NO_INTEGERS, ROAD, SQUARE, WELL, r
 from tests.test_questions import NO_ORDERS
 from tests.test_tables import NO_TABLES
 from wherebase.errors import (
-    InvalidCondition, InvalidNumber, InvalidOperation, InvalidPlan, InvalidQuestion, InvalidTable, InvalidTree, UnknownName,
+    InvalidCondition, InvalidNumber, InvalidOperation, InvalidPlan, InvalidQuestion, InvalidTable, InvalidTree,
+    UnknownName,
 )
 from wherebase.plan.plans import ROW_COST, are_fitting, best_plan, plans, reasons, run, tree_of
 from wherebase.plan.questions import answer
@@ -20,7 +21,8 @@ from wherebase.tree.boxes import box_of
 from wherebase.tree.trees import Tree
 
 TABLE = Table({"spot": "shape", "way": "shape", "worth": "number"})
-for told in ({"spot": SQUARE, "way": WELL}, {"spot": WELL, "worth": 3}, {"spot": EMPTY, "way": ROAD}, {"way": EMPTY, "worth": 4},
+for told in ({"spot": SQUARE, "way": WELL}, {"spot": WELL, "worth": 3}, {"spot": EMPTY, "way": ROAD},
+    {"way": EMPTY, "worth": 4},
         {"spot": dots((9, 9)), "way": dots((9, 9))}, {"spot": ROAD, "way": FRAME}):
     TABLE = TABLE.put(told)
 TREES = {"spot": tree_of(TABLE, "spot"), "way": tree_of(TABLE, "way")}
@@ -83,8 +85,10 @@ class TreeOfTest(unittest.TestCase):
             self.assertIs(are_fitting(TABLE, trees), True)
         for value in (None, True, 5, "spot", (), [], (("spot", spot),), spot, {"spot": None}, {"spot": spot.form},
                 {"spot": spot.boxes}, {"spot": way}, {"spot": spot.without(2)}, {"spot": spot.put(3, (0, 0, 0, 0))},
-                {"spot": spot.moved(2, (2, 2, 2, 3))}, {"spot": Tree()}, {"spot": spot, "worth": Tree()}, {"no": Tree()},
-                {("spot",): spot}, {1: spot}, {None: spot}, {"Spot": spot}, {"spot": spot, "way": spot}, {"worth": spot}):
+                {"spot": spot.moved(2, (2, 2, 2, 3))}, {"spot": Tree()}, {"spot": spot, "worth": Tree()},
+                {"no": Tree()},
+                {("spot",): spot}, {1: spot}, {None: spot}, {"Spot": spot}, {"spot": spot, "way": spot},
+                {"worth": spot}):
             self.assertIs(are_fitting(TABLE, value), False, value)
         self.assertIs(are_fitting(TABLE.without(2), TREES), False)
         self.assertIs(are_fitting(TABLE.without(3, 4), {"spot": spot}), True)
@@ -110,11 +114,15 @@ class RunTest(unittest.TestCase):
         by_way = ("meets", ("column", "way"), ("value", dots((9, 9))))
         for condition, expected in (
             # the rows that the search finds, and those with a missing or an empty shape
-            (MET, ((44, ("tree", "spot")), (44 + 0 * 60, ("both", "spot", "way")), (60, ("all",)), (60, ("tree", "way")))),
+            (MET, ((44, ("tree", "spot")), (44 + 0 * 60, ("both", "spot", "way")), (60, ("all",)),
+            (60, ("tree", "way")))),
             (by_way, ((34, ("both", "spot", "way")), (34, ("tree", "way")), (60, ("all",)), (60, ("tree", "spot")))),
-            (("and", MET, by_way), ((18, ("both", "spot", "way")), (34, ("tree", "way")), (44, ("tree", "spot")), (60, ("all",)))),
-            (("or", MET, by_way), ((60, ("all",)), (60, ("both", "spot", "way")), (60, ("tree", "spot")), (60, ("tree", "way")))),
-            (("missing", SPOT), ((20, ("both", "spot", "way")), (20, ("tree", "spot")), (60, ("all",)), (60, ("tree", "way")))),
+            (("and", MET, by_way), ((18, ("both", "spot", "way")), (34, ("tree", "way")), (44, ("tree", "spot")),
+            (60, ("all",)))),
+            (("or", MET, by_way), ((60, ("all",)), (60, ("both", "spot", "way")), (60, ("tree", "spot")),
+            (60, ("tree", "way")))),
+            (("missing", SPOT), ((20, ("both", "spot", "way")), (20, ("tree", "spot")), (60, ("all",)),
+            (60, ("tree", "way")))),
             (("and", ("missing", SPOT), by_way),
                 ((14, ("both", "spot", "way")), (20, ("tree", "spot")), (34, ("tree", "way")), (60, ("all",)))),
         ):
@@ -137,7 +145,8 @@ class RunTest(unittest.TestCase):
             if not is_condition(table, condition):
                 continue
             make = unpacked if turn % 2 else tree_of
-            trees = {column: make(table, column) for column in rows.choice([("spot", "way"), ("spot", "way"), ("way",), ()])}
+            trees = {column: make(table, column) for column in rows.choice([("spot", "way"), ("spot", "way"), ("way",),
+                ()])}
             self.assertIs(are_fitting(table, trees), True)
             order = rows.choice([(), ((WORTH, "down"),)])
             limit = rows.choice([None, 0, 1, 2, 30])
@@ -199,7 +208,8 @@ class RunTest(unittest.TestCase):
         })
         both = ("and", away, ("missing", ("column", "way")))
         self.assertEqual(reasons(TABLE, trees, both, ("both", "spot", "way")), {
-            1: ("apart", "spot", (0, 1), "left"), 2: ("apart", "spot", (1,), "left"), 3: ("never", "way"), 4: ("false",),
+            1: ("apart", "spot", (0, 1), "left"), 2: ("apart", "spot", (1,), "left"), 3: ("never", "way"),
+                4: ("false",),
             5: ("never", "way"), 6: ("apart", "spot", (1,), "left"),
         })
         self.assertEqual(reasons(TABLE, trees, both, ("all",)),
@@ -221,11 +231,14 @@ class RunTest(unittest.TestCase):
             for call in (plans, best_plan):
                 self.assertIsInstance(raised(call, TABLE, TREES, condition), InvalidCondition)
             for call in (run, reasons):
-                self.assertIsInstance(raised(call, TABLE, TREES, condition, None, order=None, limit=-1), InvalidCondition)
+                self.assertIsInstance(raised(call, TABLE, TREES, condition, None, order=None, limit=-1),
+                    InvalidCondition)
         for call in (run, reasons):
-            for plan in (None, True, "all", ("All",), [], ["all"], (), ("all", "spot"), ("tree",), ("tree", "worth"), ("tree", "no"),
+            for plan in (None, True, "all", ("All",), [], ["all"], (), ("all", "spot"), ("tree",), ("tree", "worth"),
+                ("tree", "no"),
                     ("tree", "spot", "way"), ("both", "spot"), ("both", "way", "spot"), ("both", "spot", "spot"),
-                    ("both", "spot", "worth"), ("both", "spot", "way", "way"), ("tree", ["spot"]), ("loops",), {}, SQUARE, 1):
+                    ("both", "spot", "worth"), ("both", "spot", "way", "way"), ("tree", ["spot"]), ("loops",), {},
+                    SQUARE, 1):
                 self.assertIsInstance(raised(call, TABLE, TREES, MET, plan, order=None, limit=-1), InvalidPlan)
             self.assertIsInstance(raised(call, TABLE, {"way": TREES["way"]}, MET, ("tree", "spot")), InvalidPlan)
             for order in NO_ORDERS:

@@ -51,7 +51,8 @@ def answer_told(table, condition, order, limit):
                 return -1 if is_before else 1
         return one - other
 
-    found = sorted([number for number in table if truth(table, condition, number) is True], key=functools.cmp_to_key(follows))
+    found = sorted([number for number in table if truth(table, condition, number) is True],
+        key=functools.cmp_to_key(follows))
     return tuple(found if limit is None else found[:limit])
 
 
@@ -78,10 +79,12 @@ class AnswerTest(unittest.TestCase):
             (((COST, "up"),), (6, 1, 2, 5, 3, 4)), (((COST, "down"),), (3, 1, 2, 5, 6, 4)),
             (((COST, "up"), (NAME, "up")), (6, 2, 5, 1, 3, 4)), (((COST, "down"), (NAME, "down")), (3, 1, 2, 5, 6, 4)),
             (((COST, "up"), (WORTH, "down"), (NAME, "up")), (6, 2, 1, 5, 3, 4)),
-            (((("area", SPOT), "down"),), (1, 6, 2, 3, 4, 5)), (((("area", SPOT), "up"), (WORTH, "down")), (4, 2, 3, 6, 1, 5)),
+            (((("area", SPOT), "down"),), (1, 6, 2, 3, 4, 5)),
+            (((("area", SPOT), "up"), (WORTH, "down")), (4, 2, 3, 6, 1, 5)),
             (((("square", SPOT, ("value", dots((4, 2)))), "up"),), (1, 4, 6, 2, 3, 5)),
             (((("square", SPOT, ("value", dots((4, 3)))), "down"),), (2, 4, 1, 6, 3, 5)),
-            (((("value", (1, 2)), "up"), (NAME, "down")), (1, 6, 2, 5, 3, 4)), (((("value", "x"), "down"),), (1, 2, 3, 4, 5, 6)),
+            (((("value", (1, 2)), "up"), (NAME, "down")), (1, 6, 2, 5, 3, 4)),
+            (((("value", "x"), "down"),), (1, 2, 3, 4, 5, 6)),
             (((WORTH, "up"), (WORTH, "down"), (COST, "up"), (NAME, "up")), (3, 6, 2, 1, 4, 5)),
         ):
             self.assertIs(is_order(TABLE, order), True)
@@ -127,7 +130,8 @@ class AnswerTest(unittest.TestCase):
         for table in NO_TABLES:
             self.assertIsInstance(raised(answer, table, None, order=wrong_order, limit=wrong_limit), InvalidTable)
         for condition in (None, SPOT, ("no",), [ALL]):
-            self.assertIsInstance(raised(answer, TABLE, condition, order=wrong_order, limit=wrong_limit), InvalidCondition)
+            self.assertIsInstance(raised(answer, TABLE, condition, order=wrong_order, limit=wrong_limit),
+                InvalidCondition)
         for order in NO_ORDERS:
             self.assertIsInstance(raised(answer, TABLE, ALL, order=order, limit=wrong_limit), InvalidQuestion)
             self.assertIsInstance(raised(answer, TABLE, ALL, order=order), InvalidQuestion)
@@ -141,7 +145,8 @@ class AnswerTest(unittest.TestCase):
 class OrderTest(unittest.TestCase):
     def test_orders(self):
         self.assertEqual(MAX_ORDER, 4)
-        for order in ((), ((WORTH, "up"),), ((NAME, "down"),) * 4, ((("area", SPOT), "up"), (("square", SPOT, WAY), "down"))):
+        for order in ((), ((WORTH, "up"),), ((NAME, "down"),) * 4,
+            ((("area", SPOT), "up"), (("square", SPOT, WAY), "down"))):
             self.assertIs(is_order(TABLE, order), True)
         for order in NO_ORDERS:
             self.assertIs(is_order(TABLE, order), False, order)

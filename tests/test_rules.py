@@ -12,7 +12,8 @@ from wherebase.errors import (
 from wherebase.meet.meets import witness
 from wherebase.plan.questions import answer
 from wherebase.rule.rules import (
-    RULE_KINDS, Rule, apart_rule, breach, breached_rows, check_rule, divides_rule, fits, is_breach, is_true, single_rule,
+    RULE_KINDS, Rule, apart_rule, breach, breached_rows, check_rule, divides_rule, fits, is_breach, is_true,
+    single_rule,
     within_rule,
 )
 from wherebase.shape.overlays import covers, joint
@@ -27,7 +28,8 @@ HELD, WHOLE = within_rule("held", "lots", "plot", "zones", "zone"), divides_rule
 LOW = check_rule("low", "lots", CHEAP)
 RULES = (CLEAR, ONE, HELD, WHOLE, LOW, single_rule("names", "lots", "name"), single_rule("prices", "lots", "price"),
     within_rule("own", "lots", "plot", "lots", "plot"), divides_rule("none", "lots", "plot", EMPTY))
-NO_RULES = (None, True, 5, "rule", (), [], {}, SQUARE, "clear: apart lots.plot", ("apart", "clear", "lots", "plot"), Table({"a": "text"}), Rule)
+NO_RULES = (None, True, 5, "rule", (), [], {}, SQUARE, "clear: apart lots.plot", ("apart", "clear", "lots", "plot"),
+    Table({"a": "text"}), Rule)
 NO_NAMES = (None, True, 5, "", "Lots", "lots ", "a" * 21, "lot1", ("lots",), ["lots"], {}, SQUARE)
 ASKED = (is_true, breach, breached_rows)
 
@@ -90,7 +92,8 @@ class RulesTest(unittest.TestCase):
             # a lone point is inside, the end of a piece is not
             ((WELL, WELL), ((1, 2),)), ((WELL, SQUARE, ROAD), ((1, 2), (1, 3), (2, 3))), ((dots((0, 0)), SQUARE), ()),
             ((ROAD, dots((5, 2))), ()), ((ROAD, line((5, 2), (9, 2))), ()), ((ROAD, line((4, 2), (9, 2))), ((1, 2),)),
-            ((crossing, line((0, 9), (9, 0))), ((1, 2),)), ((FRAME, WELL), ()), ((FRAME, area((1, 1), (3, 1), (3, 3), (1, 3))), ()),
+            ((crossing, line((0, 9), (9, 0))), ((1, 2),)), ((FRAME, WELL), ()),
+            ((FRAME, area((1, 1), (3, 1), (3, 3), (1, 3))), ()),
             ((FRAME, SQUARE), ((1, 2),)), ((LEFT, WELL, dots((3, 3)), RIGHT), ((3, 4),)),
             ((dots((9, 9)), SQUARE, None, LEFT, RIGHT, dots((1, 1))), ((2, 4), (2, 5), (2, 6), (4, 6))),
         ):
@@ -112,24 +115,31 @@ class RulesTest(unittest.TestCase):
     def test_within(self):
         for shapes, zones, rows in (
             ((LEFT, RIGHT), (SQUARE,), ()), ((SQUARE,), (LEFT, RIGHT), ()), ((SQUARE,), (LEFT,), ((1,),)),
-            ((LEFT, None, EMPTY, RIGHT), (FRAME,), ((1,), (4,))), ((), (), ()), ((None, EMPTY), (), ()), ((WELL,), (), ((1,),)),
+            ((LEFT, None, EMPTY, RIGHT), (FRAME,), ((1,), (4,))), ((), (), ()), ((None, EMPTY), (), ()),
+            ((WELL,), (), ((1,),)),
             ((ROAD, WELL), (SQUARE,), ((1,),)), ((WELL,), (FRAME, None, EMPTY), ((1,),)), ((WELL,), (FRAME, ROAD), ()),
-            ((SQUARE,), (FRAME, area((1, 1), (3, 1), (3, 3), (1, 3))), ()), ((dots((0, 0), (9, 9)),), (SQUARE, dots((9, 9))), ()),
+            ((SQUARE,), (FRAME, area((1, 1), (3, 1), (3, 3), (1, 3))), ()),
+            ((dots((0, 0), (9, 9)),), (SQUARE, dots((9, 9))), ()),
         ):
             self.check(HELD, lots(*shapes, zones=zones), rows)
         # one table in both places
         own = RULES[7]
         self.check(own, lots(SQUARE, ROAD, None, EMPTY), ())
         tables = lots(zones=(SQUARE,))
-        table = Table({"plot": "shape", "other": "shape"}).put({"plot": LEFT}).put({"other": LEFT, "plot": WELL}).put({"plot": RIGHT})
+        table = Table({"plot": "shape", "other": "shape"}).put({"plot": LEFT}).put({"other": LEFT,
+            "plot": WELL}).put({"plot": RIGHT})
         self.check(within_rule("own", "lots", "plot", "lots", "other"), {**tables, "lots": table}, ((3,),))
 
     def test_divides(self):
         for shapes, rows in (
-            ((LEFT, RIGHT), ()), ((SQUARE,), ()), ((SQUARE, None, EMPTY), ()), ((), ((),)), ((None, EMPTY), ((),)), ((FRAME,), ((),)),
-            ((LEFT, area((2, 0), (4, 0), (4, 3), (2, 3))), ((),)), ((LEFT, SQUARE), ((1, 2),)), ((SQUARE, dots((9, 9))), ((2,),)),
-            ((ROAD, LEFT), ((1, 2), (1,), ())), ((FRAME, WELL), ((),)), ((FRAME, area((1, 1), (3, 1), (3, 3), (1, 3))), ()),
-            ((LEFT, RIGHT, line((4, 0), (9, 0)), line((2, 4), (2, 0))), ((3,),)), ((LEFT, RIGHT, line((4, 0), (4, 4))), ()),
+            ((LEFT, RIGHT), ()), ((SQUARE,), ()), ((SQUARE, None, EMPTY), ()), ((), ((),)), ((None, EMPTY), ((),)),
+            ((FRAME,), ((),)),
+            ((LEFT, area((2, 0), (4, 0), (4, 3), (2, 3))), ((),)), ((LEFT, SQUARE), ((1, 2),)),
+            ((SQUARE, dots((9, 9))), ((2,),)),
+            ((ROAD, LEFT), ((1, 2), (1,), ())), ((FRAME, WELL), ((),)),
+            ((FRAME, area((1, 1), (3, 1), (3, 3), (1, 3))), ()),
+            ((LEFT, RIGHT, line((4, 0), (9, 0)), line((2, 4), (2, 0))), ((3,),)),
+            ((LEFT, RIGHT, line((4, 0), (4, 4))), ()),
             ((area((0, 0), (9, 0), (0, 9)), RIGHT, WELL), ((1, 2), (1, 3), (1,))),
             ((area((0, 0), (7, 0), (0, 7)), WELL), ((1, 2), (1,), ())),
         ):
@@ -137,7 +147,8 @@ class RulesTest(unittest.TestCase):
         self.check(RULES[8], lots(EMPTY, None), ())
         self.check(RULES[8], lots(WELL, WELL, ROAD), ((1, 2), (1, 3), (2, 3), (1,), (2,), (3,)))
         self.check(divides_rule("lines", "lots", "plot", ROAD), lots(line((-1, 2), (3, 2)), line((3, 2), (5, 2))), ())
-        self.check(divides_rule("lines", "lots", "plot", ROAD), lots(line((-1, 2), (3, 2)), line((4, 2), (5, 2))), ((),))
+        self.check(divides_rule("lines", "lots", "plot", ROAD), lots(line((-1, 2), (3, 2)), line((4, 2), (5, 2))),
+            ((),))
 
     def test_check(self):
         tables = lots(*[None] * 5)
@@ -148,7 +159,8 @@ class RulesTest(unittest.TestCase):
         self.assertNotEqual(answer(tables["lots"], CHEAP), tuple(set(tables["lots"]) - {2, 4}))
         self.check(check_rule("never", "lots", ("or",)), tables, ((1,), (2,), (3,), (4,), (5,)))
         self.check(check_rule("ever", "lots", ("and",)), tables, ())
-        self.check(check_rule("there", "zones", ("not", ("missing", ("column", "zone")))), lots(zones=(WELL, None)), ((2,),))
+        self.check(check_rule("there", "zones", ("not", ("missing", ("column", "zone")))), lots(zones=(WELL, None)),
+            ((2,),))
 
     def test_drawn(self):
         rows = random.Random(150)
@@ -156,10 +168,12 @@ class RulesTest(unittest.TestCase):
         kinds = {"plot": "shape", "price": "number", "name": "text"}
         for turn in range(60):
             spread = rows.randint(1, 4)
-            tables = {"lots": drawn_table(rows, rows.randint(0, 6), kinds), "zones": drawn_table(rows, rows.randint(0, 4), {"zone": "shape"})}
+            tables = {"lots": drawn_table(rows, rows.randint(0, 6), kinds),
+                "zones": drawn_table(rows, rows.randint(0, 4), {"zone": "shape"})}
             for number in tables["lots"]:
                 shape = drawn_shape(rows, spread)
-                tables["lots"] = tables["lots"].change(number, {"plot": shape if len(shape) < 12 else WELL, "price": rows.randint(4, 7)})
+                tables["lots"] = tables["lots"].change(number,
+                    {"plot": shape if len(shape) < 12 else WELL, "price": rows.randint(4, 7)})
             if turn % 3 == 0:
                 tables["lots"] = lots(*rows.choice([(LEFT, RIGHT), (SQUARE,), (FRAME, WELL), (LEFT, ROAD)]))["lots"]
             for rule in RULES:
@@ -179,8 +193,10 @@ class BreachTest(unittest.TestCase):
         for value in wrong:
             self.assertIs(is_breach(rule, tables, value), False, value)
         for value in (None, True, (), [], {}, right[0][0], right[0][1], [*right[0]], (*right[0], None), right[0][:1],
-                (list(right[0][0]), right[0][1]), ((*right[0][0], 99), right[0][1]), (right[0][0][:-1], right[0][1]) if len(right[0][0]) > 1
-                else None, ((None,), right[0][1]), ((True,), right[0][1]), (True, right[0][1]), SQUARE, (SQUARE, right[0][1]),
+                (list(right[0][0]), right[0][1]), ((*right[0][0], 99), right[0][1]),
+                (right[0][0][:-1], right[0][1]) if len(right[0][0]) > 1
+                else None, ((None,), right[0][1]), ((True,), right[0][1]), (True, right[0][1]), SQUARE,
+                    (SQUARE, right[0][1]),
                 (right[0][0] * 2 + (5,), right[0][1])):
             self.assertIs(is_breach(rule, tables, value), False, value)
         for point in NO_POINTS:
@@ -189,47 +205,62 @@ class BreachTest(unittest.TestCase):
 
     def test_apart(self):
         tables = lots(SQUARE, ROAD, None, dots((1, 1), (4, 2)), EMPTY)
-        self.check_values(CLEAR, tables, [((1, 2), told(2, 2)), ((1, 2), (1, 4, 2)), ((1, 4), told(1, 1)), ((2, 4), told(4, 2))], [
-            ((1, 2), told(0, 2)), ((1, 2), told(4, 2)), ((1, 2), told(5, 2)), ((1, 2), told(2, 3)), ((1, 2), None), ((2, 1), told(2, 2)),
-            ((1, 1), told(2, 2)), ((1, 4), told(4, 2)), ((1, 4), told(2, 2)), ((1, 3), told(2, 2)), ((1, 5), told(2, 2)),
-            ((1, 6), told(2, 2)), ((1, 2, 4), told(2, 2)), ((1,), told(2, 2)), ((), told(2, 2)), ((1, HUGE), told(2, 2)),
+        self.check_values(CLEAR, tables, [((1, 2), told(2, 2)), ((1, 2), (1, 4, 2)), ((1, 4), told(1, 1)),
+            ((2, 4), told(4, 2))], [
+            ((1, 2), told(0, 2)), ((1, 2), told(4, 2)), ((1, 2), told(5, 2)), ((1, 2), told(2, 3)), ((1, 2), None),
+            ((2, 1), told(2, 2)),
+            ((1, 1), told(2, 2)), ((1, 4), told(4, 2)), ((1, 4), told(2, 2)), ((1, 3), told(2, 2)),
+            ((1, 5), told(2, 2)),
+            ((1, 6), told(2, 2)), ((1, 2, 4), told(2, 2)), ((1,), told(2, 2)), ((), told(2, 2)),
+            ((1, HUGE), told(2, 2)),
             ((True, 2), told(2, 2)), ((0, 1), told(2, 2)), ((1, 2), (2, 2)), ((1, 2), (4, 4, 2)),
         ])
         # a corner at which two lines cross, and the ends of lines
         tables = lots(line((0, 0), (2, 2)), line((0, 2), (2, 0)), line((2, 2), (3, 3)))
-        self.check_values(CLEAR, tables, [((1, 2), told(1, 1))], [((1, 3), told(2, 2)), ((1, 2), told(0, 0)), ((2, 3), told(2, 2))])
+        self.check_values(CLEAR, tables, [((1, 2), told(1, 1))],
+            [((1, 3), told(2, 2)), ((1, 2), told(0, 0)), ((2, 3), told(2, 2))])
 
     def test_single(self):
         tables = lots(SQUARE, None, SQUARE, None, WELL)
-        self.check_values(ONE, tables, [((1, 3), None)], [((3, 1), None), ((1, 1), None), ((2, 4), None), ((1, 5), None), ((1, 6), None),
+        self.check_values(ONE, tables, [((1, 3), None)], [((3, 1), None), ((1, 1), None), ((2, 4), None),
+            ((1, 5), None), ((1, 6), None),
             ((1, 3), told(2, 2)), ((1,), None), ((), None), ((1, 3, 5), None)])
 
     def test_check(self):
         tables = {"lots": lots(None, None, None)["lots"].change(1, {"price": 6}).change(2, {"price": 5})}
-        self.check_values(LOW, tables, [((1,), None)], [((2,), None), ((3,), None), ((4,), None), ((1, 2), None), ((), None), ((1,), told(0, 0)),
+        self.check_values(LOW, tables, [((1,), None)], [((2,), None), ((3,), None), ((4,), None), ((1, 2), None),
+            ((), None), ((1,), told(0, 0)),
             ((1, 1), None)])
 
     def test_within(self):
         tables = lots(SQUARE, ROAD, None, zones=(FRAME, dots((2, 2))))
-        self.check_values(HELD, tables, [((1,), told(2, 1.5)), ((1,), (3, 4, 2)), ((2,), told(-1, 2)), ((2,), told(5, 2)), ((2,), (3, 4, 2))], [
-            ((1,), told(2, 2)), ((1,), told(1, 1)), ((1,), told(3, 2)), ((1,), told(5, 2)), ((2,), told(4, 2)), ((2,), told(0, 2)),
-            ((2,), told(2, 2)), ((3,), told(9, 9)), ((1,), None), ((), told(2, 1.5)), ((1, 2), (3, 4, 2)), ((4,), (3, 4, 2)),
+        self.check_values(HELD, tables, [((1,), told(2, 1.5)), ((1,), (3, 4, 2)), ((2,), told(-1, 2)),
+            ((2,), told(5, 2)), ((2,), (3, 4, 2))], [
+            ((1,), told(2, 2)), ((1,), told(1, 1)), ((1,), told(3, 2)), ((1,), told(5, 2)), ((2,), told(4, 2)),
+            ((2,), told(0, 2)),
+            ((2,), told(2, 2)), ((3,), told(9, 9)), ((1,), None), ((), told(2, 1.5)), ((1, 2), (3, 4, 2)),
+            ((4,), (3, 4, 2)),
             ((True,), (3, 4, 2)),
         ])
 
     def test_divides(self):
         tables = lots(LEFT, area((1, 0), (3, 0), (3, 4), (1, 4)), line((4, 4), (6, 4)), None)
-        self.check_values(WHOLE, tables, [((1, 2), (3, 4, 2)), ((3,), told(6, 4)), ((3,), told(5, 4)), ((), told(4, 0)), ((), (7, 4, 2))], [
-            ((1, 2), told(1, 1)), ((1, 2), told(2, 1)), ((2, 3), told(4, 4)), ((1, 3), told(1, 1)), ((1, 2), None), ((3,), told(4, 4)),
-            ((1,), told(1, 1)), ((3,), (7, 4, 2)), ((4,), told(9, 9)), ((5,), told(9, 9)), ((), told(3, 1)), ((), told(4, 4)),
-            ((), told(5, 4)), ((), told(9, 9)), ((), None), ((1, 2, 3), (3, 4, 2)), ((2, 1), (3, 4, 2)), ((1, 2, 3), told(4, 0)),
+        self.check_values(WHOLE, tables, [((1, 2), (3, 4, 2)), ((3,), told(6, 4)), ((3,), told(5, 4)),
+            ((), told(4, 0)), ((), (7, 4, 2))], [
+            ((1, 2), told(1, 1)), ((1, 2), told(2, 1)), ((2, 3), told(4, 4)), ((1, 3), told(1, 1)), ((1, 2), None),
+            ((3,), told(4, 4)),
+            ((1,), told(1, 1)), ((3,), (7, 4, 2)), ((4,), told(9, 9)), ((5,), told(9, 9)), ((), told(3, 1)),
+            ((), told(4, 4)),
+            ((), told(5, 4)), ((), told(9, 9)), ((), None), ((1, 2, 3), (3, 4, 2)), ((2, 1), (3, 4, 2)),
+            ((1, 2, 3), told(4, 0)),
             ((1,), told(9, 9)), ((3,), told(6, 5)), ((1, 2, 3), (7, 4, 2)), ((4,), told(4, 0)),
         ])
 
     def test_true_rules_have_no_breach(self):
         tables = lots(LEFT, RIGHT, zones=(SQUARE,))
         for rule in RULES[:6]:
-            for value in (None, ((1, 2), None), ((1, 2), told(2, 2)), ((1,), told(1, 1)), ((), told(1, 1)), ((1,), None)):
+            for value in (None, ((1, 2), None), ((1, 2), told(2, 2)), ((1,), told(1, 1)), ((), told(1, 1)),
+                ((1,), None)):
                 self.assertIs(is_breach(rule, tables, value), False)
 
 
@@ -237,10 +268,13 @@ class RuleTest(unittest.TestCase):
     def test_properties(self):
         self.assertEqual(RULE_KINDS, ("apart", "check", "divides", "single", "within"))
         for rule, kind, label, names, text in (
-            (CLEAR, "apart", "clear", ("lots",), "clear: apart lots.plot"), (ONE, "single", "one", ("lots",), "one: single lots.plot"),
+            (CLEAR, "apart", "clear", ("lots",), "clear: apart lots.plot"),
+            (ONE, "single", "one", ("lots",), "one: single lots.plot"),
             (HELD, "within", "held", ("lots", "zones"), "held: within lots.plot zones.zone"),
-            (WHOLE, "divides", "whole", ("lots",), "whole: divides lots.plot"), (LOW, "check", "low", ("lots",), "low: check lots"),
-            (within_rule("z", "zones", "b", "lots", "a", at_end=True), "within", "z", ("lots", "zones"), "z: within zones.b lots.a at end"),
+            (WHOLE, "divides", "whole", ("lots",), "whole: divides lots.plot"),
+            (LOW, "check", "low", ("lots",), "low: check lots"),
+            (within_rule("z", "zones", "b", "lots", "a", at_end=True), "within", "z", ("lots", "zones"),
+            "z: within zones.b lots.a at end"),
             (within_rule("z", "lots", "b", "lots", "a"), "within", "z", ("lots",), "z: within lots.b lots.a"),
             (apart_rule("a", "b", "c", at_end=True), "apart", "a", ("b",), "a: apart b.c at end"),
             (single_rule("a", "b", "c", at_end=True), "single", "a", ("b",), "a: single b.c at end"),
@@ -257,13 +291,17 @@ class RuleTest(unittest.TestCase):
         def made():
             """Rules that are all unlike, made anew."""
             return [
-                apart_rule("a", "b", "c"), apart_rule("d", "b", "c"), apart_rule("a", "d", "c"), apart_rule("a", "b", "d"),
-                apart_rule("a", "b", "c", at_end=True), single_rule("a", "b", "c"), single_rule("a", "b", "c", at_end=True),
-                within_rule("a", "b", "c", "b", "c"), within_rule("a", "b", "c", "d", "c"), within_rule("a", "b", "c", "b", "d"),
+                apart_rule("a", "b", "c"), apart_rule("d", "b", "c"), apart_rule("a", "d", "c"),
+                    apart_rule("a", "b", "d"),
+                apart_rule("a", "b", "c", at_end=True), single_rule("a", "b", "c"),
+                single_rule("a", "b", "c", at_end=True),
+                within_rule("a", "b", "c", "b", "c"), within_rule("a", "b", "c", "d", "c"),
+                within_rule("a", "b", "c", "b", "d"),
                 within_rule("a", "b", "d", "b", "c"), within_rule("a", "b", "c", "b", "c", at_end=True),
                 divides_rule("a", "b", "c", area((4, 0), (4, 4), (0, 4), (0, 0))), divides_rule("a", "b", "c", EMPTY),
                 divides_rule("a", "b", "c", SQUARE, at_end=True), check_rule("a", "b", CHEAP), check_rule("a", "b", ()),
-                check_rule("a", "b", ("less", ["column"], {"a": 1})), check_rule("a", "b", CHEAP, at_end=True), check_rule("a", "d", CHEAP),
+                check_rule("a", "b", ("less", ["column"], {"a": 1})), check_rule("a", "b", CHEAP, at_end=True),
+                check_rule("a", "d", CHEAP),
             ]
         for one, rule in enumerate(made()):
             for other, second in enumerate(made()):
@@ -301,7 +339,8 @@ class RuleTest(unittest.TestCase):
         for condition in (None, True, 5, "and", ["and"], {}, SQUARE):
             self.assertIsInstance(raised(check_rule, "a", "b", condition, at_end=5), InvalidCondition)
         for at_end in (None, 0, 1, "", "True", (), [], (True,), SQUARE):
-            for call, more in ((apart_rule, ("c",)), (single_rule, ("c",)), (within_rule, ("c", "d", "e")), (divides_rule, ("c", MORE)),
+            for call, more in ((apart_rule, ("c",)), (single_rule, ("c",)), (within_rule, ("c", "d", "e")),
+                (divides_rule, ("c", MORE)),
                     (check_rule, (CHEAP,))):
                 self.assertIsInstance(raised(call, "a", "b", *more, at_end=at_end), InvalidOperation)
         error = raised(divides_rule, "a", "b", "c", MORE)
@@ -336,7 +375,8 @@ class AskedTest(unittest.TestCase):
                 self.assertIsInstance(raised(call, rule, None), InvalidRule)
             self.assertIsInstance(raised(is_breach, rule, None, None), InvalidRule)
         table = lots()["lots"]
-        for tables in (None, True, 5, "lots", (), [], [("lots", table)], table, {"lots": None}, {"Lots": table}, {1: table},
+        for tables in (None, True, 5, "lots", (), [], [("lots", table)], table, {"lots": None}, {"Lots": table},
+            {1: table},
                 {"lots": table, "zones": "zones"}, {"lots": table, "": table}, {("lots",): table}, {"lots": [table]}):
             for call in (fits, *ASKED):
                 self.assertIsInstance(raised(call, CLEAR, tables), InvalidTable)
@@ -363,9 +403,11 @@ class AskedTest(unittest.TestCase):
             return dots(*[(k, height) for k in range(many)])
         near = [row(60, 0), joint(row(29, 0), dots((0, 9))), row(50, 0)]
         for many, zones, is_refused in (
-            (60, near, False), (60, [*near, dots((0, 0))], True), (60, [*near, dots((60, 0)), dots((0, 1)), None, EMPTY], False),
+            (60, near, False), (60, [*near, dots((0, 0))], True),
+            (60, [*near, dots((60, 0)), dots((0, 1)), None, EMPTY], False),
             # boxes meet, though the shapes do not
-            (60, [*near, dots((1, 2, 2))], False), (60, [*near, dots((1, 0, 2))], True), (59, [*near, dots((1, 0, 2))], False),
+            (60, [*near, dots((1, 2, 2))], False), (60, [*near, dots((1, 0, 2))], True),
+            (59, [*near, dots((1, 0, 2))], False),
             (59, [*near, dots((1, 0, 2), (59, 1))], True),
         ):
             tables = lots(WELL, row(many, 0), zones=zones)

@@ -128,7 +128,8 @@ class UntrueStatementsTest(unittest.TestCase):
     def test_opposite_questions(self):
         table = Table(KINDS_OF).put({"worth": 5}).put({"worth": 1}).put({})
         condition = ("less", WORTH, ("value", 3))
-        self.assertEqual((answer(table, condition), answer(table, ("not", condition)), truths(table, condition)[3]), ((2,), (1,), None))
+        self.assertEqual((answer(table, condition), answer(table, ("not", condition)), truths(table, condition)[3]),
+            ((2,), (1,), None))
 
     def test_changes_that_keep_rules_one_by_one(self):
         book = Book({"lots": Table({"plot": "shape"})}, apart_rule("clear", "lots", "plot"))
@@ -147,7 +148,8 @@ class UntrueStatementsTest(unittest.TestCase):
         table = Table({"name": "text"}).put({"name": "a"}).put({"name": "b"})
 
         def rules(at_end):
-            return (single_rule("one", "lots", "name", at_end=at_end), check_rule("known", "lots", known, at_end=at_end),
+            return (single_rule("one", "lots", "name", at_end=at_end),
+                check_rule("known", "lots", known, at_end=at_end),
                 check_rule("there", "lots", there, at_end=at_end))
         # no row but these two can be there, and neither can be changed; one that is taken out does not come back
         transaction = Book({"lots": table}, *rules(False)).begin()

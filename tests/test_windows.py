@@ -44,7 +44,8 @@ class WindowTest(unittest.TestCase):
         self.check(("meets", SPOT, ("value", dots((1, 1, 2), (-7, 5, 3)))), ((-3, 0, 1, 2), "all"))
 
     def test_near(self):
-        for square, more in ((0, 0), ((0, 1), 0), ((1, 9), 1), (1, 1), ((3, 2), 2), (2, 2), ((9, 4), 2), (4, 2), ((17, 4), 3),
+        for square, more in ((0, 0), ((0, 1), 0), ((1, 9), 1), (1, 1), ((3, 2), 2), (2, 2), ((9, 4), 2), (4, 2),
+            ((17, 4), 3),
                 (5, 3), (9, 3), ((28, 3), 4), (10, 4), (HUGE ** 2, HUGE), (HUGE ** 2 + 1, HUGE + 1),
                 ((HUGE ** 2, 2), None)):
             if more is None:
@@ -61,7 +62,8 @@ class WindowTest(unittest.TestCase):
 
     def test_others(self):
         self.check(("missing", SPOT), ("none", "all"))
-        for condition in (("missing", WAY), ("missing", WORTH), ("missing", ("value", ROAD)), ("missing", ("area", SPOT)), CHEAP,
+        for condition in (("missing", WAY), ("missing", WORTH), ("missing", ("value", ROAD)),
+            ("missing", ("area", SPOT)), CHEAP,
                 ("same", ("area", SPOT), ("value", 5)), ("less", ("square", SPOT, ("value", ROAD)), ("value", 1)),
                 ("same", ("value", 1), ("value", 2)), ("same", WAY, ("value", ROAD))):
             self.check(condition, ("all", "all"))
@@ -73,7 +75,8 @@ class WindowTest(unittest.TestCase):
             ((SMALL, LONG), ((0, 0, 1, 1), "all")), ((LONG, SMALL), ((0, 0, 1, 1), "all")),
             ((SMALL, DOT), ((2, 2, 2, 2), "all")), ((SMALL, BY_ROAD), (BOX, "all")),
             # by areas, wherever the boxes lie
-            ((FAR, WIDE), ((7, 8, 8, 9), "all")), ((WIDE, FAR), ((7, 8, 8, 9), "all")), ((WIDE, LONG), ((-1, -1, 0, 1), "all")),
+            ((FAR, WIDE), ((7, 8, 8, 9), "all")), ((WIDE, FAR), ((7, 8, 8, 9), "all")),
+            ((WIDE, LONG), ((-1, -1, 0, 1), "all")),
             # no area at all: the least tuple
             ((DOT, BY_ROAD), (BOX, "all")), ((BY_ROAD, DOT, CHEAP), (BOX, "all")),
             ((("not", SMALL), ("not", DOT)), ("all", (0, 0, 2, 2))), ((("not", SMALL), LONG), ((-3, 0, 9, 1), "all")),
